@@ -1,0 +1,1 @@
+"""A query optimizer that never claims more than its statistics say."""
