@@ -1,0 +1,201 @@
+"""[1] The conventions, for all calls, and the names of the interface."""
+
+import inspect
+from importlib import import_module
+
+from surelyplan.errors import PlanError
+from surelyplan.queries import Query, answer, answer_size, assignments
+from surelyplan.renaming import Apart, Renamed, judge_renamed, same_counts
+from surelyplan.schemas import Data, Schema
+from surelyplan.sizes import Covered, SizeEnds, cover, cover_bound, reach_sizes, size_ends
+from surelyplan.statistics import Against, Agrees, Crossed, Statistics
+from surelyplan.statistics import agree, all_tables, broken_notes, count_tables, has_tables, judge_table
+from surelyplan.weighing import Weighed, follows, needed_notes, tightest, weigh, weighed_ends
+from surelyplan.within import Beyond, Leanest, Within
+from surelyplan.within import fewest_atoms, frozen, is_within, judge_within, leanest, leanest_query, show_same
+from tests.checks import DATA, SCHEMA, STATS, Case
+
+FREE = Query(SCHEMA, ((0, (0, 1)), (1, (1,))), (), (0,))
+FILTERED = Query(SCHEMA, ((0, (0, 1)), (0, (0, 2))), ((0, (1,)),), (0,))
+NARROW = Statistics(SCHEMA, STATS.notes + (("cell", 1, (0,), 1, 1), ("cell", 1, (1,), 0, 2)))
+NONE = Statistics(SCHEMA, [("rows", 1, 3, 2)])
+WEIGHTS = (5, 1, 1, 5)
+LOW = {("top", 0): 1}
+
+# All calls of the package with arguments of which most are right and some are wrong.
+CALLS = [
+    (Schema, [(2, (1, 2)), (7, (1,)), (2, [1])]),
+    (Data, [(SCHEMA, [[1, 2, 3, 4], [5, 6]]), (SCHEMA, [[1, 2, 3, 4], [5, 10]]), (SCHEMA, [[]])]),
+    (Query, [(SCHEMA, ((0, (0, 1)),), ((0, (1,)),), (1,)), (SCHEMA, [], [], [])]),
+    (Statistics, [(SCHEMA, [("rows", 0, 1, 2)]), (SCHEMA, [("rows", 0, 1, 2), ["rows", 0, 1, 2]])]),
+    (SCHEMA.cells, [(0,), (5,)]), (DATA.rows, [(0,), (5,)]), (DATA.filled, [(0,), (5,)]),
+    (DATA.with_value, [(0, 1, 1), (0, 1, 2)]), (DATA.count_of, [(0, (0, 1)), (0, [0, 1])]),
+    (FREE.variables, [()]), (FREE.allowed, [(0,)]), (FILTERED.allowed, [(0,)]),
+    (answer, [(FREE, DATA), (FILTERED, DATA), (FREE, None)]), (answer_size, [(FREE, DATA), (FILTERED, DATA)]),
+    (assignments, [(FREE, DATA), (FILTERED, DATA)]),
+    (judge_table, [(STATS, 0), (NONE, 1), (STATS, 2)]), (has_tables, [(STATS,), (NONE,)]),
+    (broken_notes, [(STATS, DATA), (NONE, DATA)]), (agree, [(STATS, DATA), (NONE, DATA)]),
+    (all_tables, [(STATS, 0), (NONE, 1), (NONE, 0)]), (count_tables, [(STATS, 0), (NONE, 0)]),
+    (Agrees([0, 2, 1, 0]).shows, [(STATS, 0), (STATS, 1)]), (Crossed(("rows",)).shows, [(NONE, 1), (NONE, 0)]),
+    (Against([("top", 0)]).shows, [(STATS, 0), (STATS, 1)]),
+    (weigh, [(STATS, 0, WEIGHTS), (STATS, 0, list(WEIGHTS)), (NONE, 0, WEIGHTS)]),
+    (weighed_ends, [(STATS, 0, WEIGHTS)]), (tightest, [(STATS, 0, ("value", 0, 1)), (STATS, 0, ["rows"])]),
+    (follows, [(STATS, ("rows", 0, 1, 9)), (STATS, ["rows", 0, 1, 9])]), (needed_notes, [(STATS,), (NONE,)]),
+    (Weighed, [((1, 2), [3], dict(LOW), {})]), (weigh(STATS, 0, WEIGHTS).shows, [(STATS, 0, WEIGHTS)]),
+    (size_ends, [(NARROW, FREE), (STATS, FREE)]), (reach_sizes, [(NARROW, FREE), (STATS, FREE)]),
+    (cover, [(NARROW, FREE), (NONE, FREE)]), (cover_bound, [(NARROW, FREE)]),
+    (reach_sizes(NARROW, FREE).shows, [(NARROW, FREE)]), (Covered([0]).shows, [(NARROW, FREE), (NONE, FREE)]),
+    (judge_within, [(FREE, FREE), (FREE, FILTERED)]), (is_within, [(FREE, FREE)]), (show_same, [(FREE, FREE)]),
+    (frozen, [(FREE,), (FILTERED,)]), (leanest, [(FREE,)]), (leanest_query, [(FREE,)]), (fewest_atoms, [(FREE,)]),
+    (Within([0, 1]).shows, [(FREE, FREE)]), (Beyond(DATA).shows, [(FREE, FREE)]), (Leanest([0], [1]).shows, [(FREE,)]),
+    (judge_renamed, [(FREE, FREE), (FREE, FILTERED)]), (same_counts, [(FREE, FREE)]),
+    (Renamed([0, 1]).shows, [(FREE, FREE)]), (Apart(DATA).shows, [(FREE, FREE)]),
+]
+
+INTERFACE = {
+    "schemas": {"Schema": "size widths", "Data": "schema tables"},
+    "queries": {
+        "Query": "schema atoms filters shown", "answer": "query data", "answer_size": "query data",
+        "assignments": "query data",
+    },
+    "statistics": {
+        "Statistics": "schema notes", "judge_table": "stats table", "has_tables": "stats", "broken_notes": "stats data",
+        "agree": "stats data", "all_tables": "stats table", "count_tables": "stats table", "Agrees": "counts",
+        "Crossed": "quantity", "Against": "nodes",
+    },
+    "weighing": {
+        "weigh": "stats table weights", "weighed_ends": "stats table weights", "tightest": "stats table quantity",
+        "follows": "stats note", "needed_notes": "stats", "Weighed": "least greatest low high",
+    },
+    "sizes": {
+        "size_ends": "stats query", "reach_sizes": "stats query", "cover": "stats query", "cover_bound": "stats query",
+        "SizeEnds": "least greatest", "Covered": "atoms",
+    },
+    "within": {
+        "judge_within": "one other", "is_within": "one other", "show_same": "one other", "frozen": "query",
+        "leanest": "query", "leanest_query": "query", "fewest_atoms": "query", "Within": "mapping", "Beyond": "data",
+        "Leanest": "kept mapping",
+    },
+    "renaming": {
+        "judge_renamed": "one other", "same_counts": "one other", "Renamed": "mapping", "Apart": "data",
+    },
+}
+METHODS = {
+    "Schema": {"__len__": "", "cells": "table"},
+    "Data": {
+        "__len__": "", "rows": "table", "with_value": "table column value", "count_of": "table cell", "filled": "table",
+    },
+    "Query": {"__len__": "", "variables": "", "allowed": "variable"}, "Statistics": {"__len__": ""},
+    "Agrees": {"shows": "stats table"}, "Crossed": {"shows": "stats table"}, "Against": {"shows": "stats table"},
+    "Weighed": {"shows": "stats table weights"}, "SizeEnds": {"shows": "stats query"}, "Covered": {"shows": "stats query"},
+    "Within": {"shows": "one other"}, "Beyond": {"shows": "one other"}, "Leanest": {"shows": "query"},
+    "Renamed": {"shows": "one other"}, "Apart": {"shows": "one other"},
+}
+
+
+def picture(value):
+    """All that can be seen of a value, with the kinds of lists and tuples and the order of dicts."""
+    if isinstance(value, (list, tuple)):
+        return (value.__class__.__name__, [picture(item) for item in value])
+    if isinstance(value, dict):
+        return ("dict", [(picture(key), picture(worth)) for key, worth in value.items()])
+    if hasattr(value, "__dict__") and not isinstance(value, PlanError):
+        return (value.__class__.__name__, picture(vars(value)))
+    return (value.__class__.__name__, repr(value))
+
+
+def outcome(call, arguments):
+    """What a call returns or raises."""
+    try:
+        return picture(call(*arguments))
+    except PlanError as error:
+        return (error.__class__.__name__, vars(error))
+
+
+def lists_and_dicts(value, found):
+    """All lists and dicts inside a result, its objects included."""
+    if isinstance(value, (list, tuple, dict)):
+        if not isinstance(value, tuple):
+            found.append(value)
+        for item in (value.values() if isinstance(value, dict) else value):
+            lists_and_dicts(item, found)
+    elif hasattr(value, "__dict__"):
+        lists_and_dicts(list(vars(value).values()), found)
+    return found
+
+
+class Conventions(Case):
+
+    def test_arguments_and_objects_stay_as_they_are(self):
+        for call, several in CALLS:
+            owner = getattr(call, "__self__", None)
+            for arguments in several:
+                before = picture(arguments), picture(owner)
+                outcome(call, arguments)
+                self.assertEqual(before, (picture(arguments), picture(owner)), call)
+
+    def test_the_same_call_says_the_same(self):
+        first = [[outcome(call, arguments) for arguments in several] for call, several in CALLS]
+        self.assertEqual(first, [[outcome(call, arguments) for arguments in several] for call, several in CALLS])
+
+    def test_no_call_raises_any_other_error(self):
+        named = [name for call, several in CALLS for name, _ in [outcome(call, each) for each in several]]
+        self.assertTrue({"BadSchema", "BadData", "BadQuery", "BadNotes", "TooLarge", "Disagrees"} <= set(named))
+
+    def test_results_can_be_changed_without_effect(self):
+        for call, several in CALLS:
+            for arguments in several:
+                wanted = outcome(call, arguments)
+                try:
+                    for part in lists_and_dicts(call(*arguments), []):
+                        part.clear()
+                except PlanError:
+                    continue
+                self.assertEqual(wanted, outcome(call, arguments), call)
+
+    def test_objects_with_shows_are_new(self):
+        for call, several in CALLS:
+            for arguments in several:
+                try:
+                    one, other = call(*arguments), call(*arguments)
+                except PlanError:
+                    continue
+                if hasattr(one, "shows"):
+                    self.assertIsNot(one, other)
+                    self.assertEqual(one, other)
+
+    def test_answers_to_questions_are_true_or_false(self):
+        for call, several in CALLS:
+            name = getattr(call, "__name__", "")
+            if name in ("shows", "agree", "has_tables", "follows", "is_within", "show_same", "same_counts"):
+                for arguments in several:
+                    told = outcome(call, arguments)
+                    self.assertTrue(told[0] == "bool" or isinstance(told[1], dict), (name, told))
+
+
+class Interface(Case):
+
+    def parameters(self, function):
+        return [name for name in inspect.signature(function).parameters if name != "self"]
+
+    def test_functions_and_classes_stand_in_their_files(self):
+        for file, names in INTERFACE.items():
+            module = import_module(f"surelyplan.{file}")
+            for name, parameters in names.items():
+                member = getattr(module, name)
+                self.assertEqual(f"surelyplan.{file}", member.__module__)
+                self.assertEqual(parameters.split(), self.parameters(member), name)
+
+    def test_methods_stand_in_their_classes(self):
+        for file, names in INTERFACE.items():
+            module = import_module(f"surelyplan.{file}")
+            for name in names:
+                if name in METHODS:
+                    self.assertIn("__eq__", vars(getattr(module, name)))
+                    for method, parameters in METHODS[name].items():
+                        self.assertIn(method, vars(getattr(module, name)))
+                        self.assertEqual(parameters.split(), self.parameters(getattr(getattr(module, name), method)))
+
+    def test_each_class_of_the_interface_is_listed(self):
+        classes = {name for names in INTERFACE.values() for name in names if name[0].isupper()}
+        self.assertEqual(set(METHODS), classes)

@@ -1,0 +1,42 @@
+"""The examples of the interface, as they are printed in the document."""
+
+import doctest
+from pathlib import Path
+from unittest import TestCase
+
+FOLDER = Path(__file__).parent / "examples"
+
+
+class Examples(TestCase):
+
+    def check(self, name, many, text=None):
+        text = (FOLDER / f"{name}.txt").read_text() if text is None else text
+        example = doctest.DocTestParser().get_doctest(text, {}, name, name, 0)
+        told = []
+        result = doctest.DocTestRunner(verbose=False).run(example, out=told.append)
+        self.assertEqual((0, many), (result.failed, result.attempted), "".join(told))
+
+    def test_schemas(self):
+        self.check("schemas", 4)
+
+    def test_queries(self):
+        self.check("queries", 7)
+
+    def test_statistics(self):
+        self.check("statistics", 9)
+
+    def test_weighing(self):
+        self.check("weighing", 7)
+
+    def test_sizes(self):
+        self.check("sizes", 11)
+
+    def test_within(self):
+        self.check("within", 7)
+
+    def test_renaming(self):
+        self.check("renaming", 8)
+
+    def test_readme(self):
+        text = (FOLDER.parent.parent / "README.md").read_text()
+        self.check("README", 11, "".join(text.split("```\n")[1:2]))
