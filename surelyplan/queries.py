@@ -1,6 +1,6 @@
 """Queries, and their answers on data."""
 
-from surelyplan.errors import BadQuery, Unlike
+from surelyplan.errors import BadPlan, BadQuery, Unlike
 from surelyplan.plain import are_between, is_ascending, is_between, is_group
 from surelyplan.schemas import cell_place, need_data, need_schema
 
@@ -55,6 +55,29 @@ def need_same_schema(one, other):
     """Raise an error unless two arguments have the same schema."""
     if one.schema != other.schema:
         raise Unlike("the schemas are different")
+
+
+def is_order(query, order):
+    """Return whether a value is an order of a query: a tuple with each index of an atom exactly once."""
+    many = len(query)
+    return is_group(order, many) and are_between(order, 0, many - 1) and len(set(order)) == many
+
+
+def need_order(query, order):
+    """Raise an error unless an argument is an order of a query."""
+    if not is_order(query, order):
+        raise BadPlan("not a tuple with each index of an atom exactly once")
+
+
+def part_of(query, indices):
+    """Return the query with some of its atoms alone, its variables numbered anew in the order of their numbers."""
+    atoms = [query.atoms[index] for index in indices]
+    variables = sorted({variable for atom in atoms for variable in atom[1]})
+    numbers = {variable: number for number, variable in enumerate(variables)}
+    renamed = tuple([(table, tuple([numbers[old] for old in inner])) for table, inner in atoms])
+    filters = tuple([(numbers[variable], values) for variable, values in query.filters if variable in numbers])
+    shown = tuple([numbers[variable] for variable in query.shown if variable in numbers])
+    return Query(query.schema, renamed, filters, shown)
 
 
 def count_variables(atoms):

@@ -40,7 +40,7 @@ class Covered:
 
     def shows(self, stats, query):
         """Return whether the atoms are a cover with the smallest possible bound."""
-        _check_query(stats, query)
+        check_notes_and_query(stats, query)
         if not are_between(self.atoms, 0, len(query) - 1) or not is_ascending(self.atoms):
             return False
         if not _covers(query, self.atoms):
@@ -58,18 +58,19 @@ def size_ends(stats, query):
 def reach_sizes(stats, query):
     """Return a `SizeEnds`: agreeing data with the smallest and with the greatest size of the answer."""
     least, greatest = _sizes_and_counts(stats, query)
-    return SizeEnds(_data_with(stats, query, least[1]), _data_with(stats, query, greatest[1]))
+    counts = some_counts(stats)
+    return SizeEnds(data_with(query, counts, least[1]), data_with(query, counts, greatest[1]))
 
 
 def cover(stats, query):
     """Return a `Covered`: a cover of a query with the smallest possible bound."""
-    _check_query(stats, query)
+    check_notes_and_query(stats, query)
     return Covered(_best_cover(query, _factors(stats, query)))
 
 
 def cover_bound(stats, query):
     """Return the smallest possible bound of a cover."""
-    _check_query(stats, query)
+    check_notes_and_query(stats, query)
     factors = _factors(stats, query)
     return _bound(factors, _best_cover(query, factors))
 
@@ -79,7 +80,8 @@ def used_tables(query):
     return sorted({atom[0] for atom in query.atoms})
 
 
-def _check_query(stats, query):
+def check_notes_and_query(stats, query):
+    """Raise an error unless arguments are statistics with agreeing data, and a query with the same schema."""
     need_statistics(stats)
     need_query(query)
     need_same_schema(stats, query)
@@ -88,20 +90,20 @@ def _check_query(stats, query):
 
 def _sizes_and_counts(stats, query):
     """Return the smallest and the greatest size, each one with the counts of the used tables that lead to it."""
-    _check_query(stats, query)
+    check_notes_and_query(stats, query)
     tables = used_tables(query)
-    choices = _choices(stats, tables)
+    choices = table_choices(stats, tables, MOST_LISTED)
     return _reach(_terms(query, tables), choices)
 
 
-def _choices(stats, tables):
-    """Return the lists of the agreeing counts of some tables."""
+def table_choices(stats, tables, most):
+    """Return the lists of the agreeing counts of some tables, of which there are at most so many combinations."""
     choices = [all_tables(stats, table) for table in tables]
     many = 1
     for choice in choices:
         many *= len(choice)
-    if many > MOST_LISTED:
-        raise TooLarge("more than 3000 combinations of tables")
+    if many > most:
+        raise TooLarge("too many combinations of tables")
     return choices
 
 
@@ -150,12 +152,17 @@ def _put_in(terms, counts):
     return rest
 
 
-def _data_with(stats, query, chosen):
-    """Return agreeing data with chosen counts of the used tables."""
-    counts = [first_counts(stats, table) for table in range(len(stats.schema))]
+def some_counts(stats):
+    """Return a list with the counts of an agreeing table for each table."""
+    return [first_counts(stats, table) for table in range(len(stats.schema))]
+
+
+def data_with(query, counts, chosen):
+    """Return data with some counts, and chosen counts of the used tables."""
+    counts = list(counts)
     for table, told in zip(used_tables(query), chosen):
         counts[table] = told
-    return Data(stats.schema, counts)
+    return Data(query.schema, counts)
 
 
 def _covers(query, atoms):

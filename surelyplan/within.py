@@ -2,7 +2,7 @@
 
 from surelyplan.errors import BadQuery, Unlike
 from surelyplan.plain import are_between, index_groups, is_ascending
-from surelyplan.queries import Query, answer, need_query
+from surelyplan.queries import Query, answer, need_query, part_of
 from surelyplan.schemas import LEAST_SIZE, Data, Schema, cell_place
 
 
@@ -101,11 +101,7 @@ def leanest(query):
 def leanest_query(query):
     """Return the query with the kept atoms of a `Leanest`, its variables numbered anew."""
     kept = leanest(query).kept
-    atoms = [query.atoms[index] for index in kept]
-    variables = sorted({variable for atom in atoms for variable in atom[1]})
-    numbers = {variable: number for number, variable in enumerate(variables)}
-    renamed = tuple([(table, image_of(numbers, old)) for table, old in atoms])
-    return Query(query.schema, renamed, (), image_of(numbers, query.shown))
+    return part_of(query, kept)
 
 
 def fewest_atoms(query):

@@ -20,14 +20,16 @@ NODES = (
     "ListComp", "DictComp", "SetComp", "comprehension", "IfExp", "BoolOp", "And", "Or", "UnaryOp", "Not", "USub",
     "BinOp", "Add", "Sub", "Mult", "Pow", "FloorDiv", "Mod", "LShift", "RShift", "BitAnd", "Compare", "Eq", "NotEq", "Lt",
     "LtE", "Gt", "GtE", "Is", "IsNot", "In", "NotIn", "Subscript", "Slice", "Break", "Continue", "Pass", "Starred",
+    "With", "withitem", "JoinedStr", "FormattedValue",
 )
 BUILTINS = (
     "len", "range", "enumerate", "zip", "min", "max", "sum", "abs", "sorted", "reversed", "int", "str", "bool", "list",
     "tuple", "dict", "set", "isinstance", "ord", "repr", "any", "all", "divmod", "super", "ValueError",
 )
 LIBRARY = {"heapq": ("heappush", "heappop"), "math": ("gcd",), "itertools": ("product", "combinations", "permutations")}
-BUILTIN_METHODS = ("append", "extend", "get", "index", "items", "values", "keys", "pop", "join")
-SPECIAL = ("__init__", "__eq__", "__len__")
+BUILTIN_METHODS = ("append", "extend", "get", "index", "items", "values", "keys", "pop", "join", "setdefault")
+SPECIAL = ("__init__", "__eq__", "__len__", "__enter__", "__exit__")
+KINDS = (str, bytes, int, list, tuple, dict, set)
 UNUSED = (
     "register", "mro", "elements", "open", "input", "law", "version_info", "with_traceback", "add_note", "attrgetter",
     "breakpoint", "builtins", "compile", "copyright", "credits", "delattr", "dir", "eval", "exec", "exit", "gc", "getattr",
@@ -186,7 +188,7 @@ class Names(TestCase):
         for file, tree in TREES.items():
             for node in functions(tree):
                 read = {name.id for name in walk(node, ast.Name) if isinstance(name.ctx, ast.Load)}
-                unknown = read - stored(node) - set(top_names(tree)) - set(BUILTINS)
+                unknown = read - stored(node) - set(top_names(tree)) - set(BUILTINS) - {"property"}
                 self.assertEqual(set(), unknown, (file, node.name))
                 self.assertFalse("_" in read)
 
@@ -198,7 +200,8 @@ class Names(TestCase):
                 mine = {n.attr for n in walk(node, ast.Attribute) if isinstance(n.ctx, ast.Store)}
                 self.assertEqual(set(), own & mine, node.name)
                 self.assertEqual(len(own), len([n for n in node.body if isinstance(n, ast.FunctionDef)]))
-                methods, assigned = methods | own, assigned | mine
+                properties = {item.name for item in functions(node) if item.decorator_list}
+                methods, assigned = methods | own - properties, assigned | mine | properties
         for file, tree in TREES.items():
             up = parents(tree)
             for node in walk(tree, ast.Attribute):
@@ -206,6 +209,25 @@ class Names(TestCase):
                     self.assertIn(node.attr, methods | set(BUILTIN_METHODS), file)
                 else:
                     self.assertIn(node.attr, assigned, file)
+
+
+    def test_own_attributes_and_methods_have_names_of_their_own(self):
+        barred = {name for kind in KINDS for name in dir(kind) if not name.startswith("__")} - {"index", "count"}
+        for file, tree in TREES.items():
+            methods = {node.name for top in walk(tree, ast.ClassDef) for node in functions(top)}
+            stores = {node.attr for node in walk(tree, ast.Attribute) if isinstance(node.ctx, ast.Store)}
+            self.assertEqual(set(), (methods | stores) & barred, file)
+
+    def test_no_name_is_a_method_here_and_an_attribute_or_another_method_there(self):
+        stores, several = set(), {}
+        for tree in TREES.values():
+            stores |= {node.attr for node in walk(tree, ast.Attribute) if isinstance(node.ctx, ast.Store)}
+            for top in walk(tree, ast.ClassDef):
+                for node in functions(top):
+                    several.setdefault(node.name, set()).add(len(node.args.args))
+        self.assertEqual(set(), stores & set(several))
+        alike = [name for name, many in several.items() if name not in SPECIAL + ("shows",) and len(many) > 1]
+        self.assertEqual([], alike)
 
 
 class Code(TestCase):
@@ -221,7 +243,9 @@ class Code(TestCase):
                 told = node.args
                 extra = told.posonlyargs + told.kwonlyargs + told.defaults + [told.vararg, told.kwarg, node.returns]
                 self.assertEqual([], [item for item in extra if item is not None], node.name)
-                self.assertEqual([], node.decorator_list + [a for a in told.args if a.annotation])
+                self.assertEqual([], [a for a in told.args if a.annotation])
+                decorators = [item.id for item in node.decorator_list]
+                self.assertIn(decorators, ([], ["property"]), node.name)
                 self.assertEqual([node], functions(node), "no nested function")
 
     def test_classes(self):
@@ -246,6 +270,36 @@ class Code(TestCase):
                     self.assertEqual(["len"], [called(item.value) for item in walk(node, ast.Return)])
                 if node.name == "__init__":
                     self.assertEqual([], walk(node, ast.Return))
+
+    def test_properties_change_nothing(self):
+        kinds = (ast.Assign, ast.AugAssign, ast.For, ast.While)
+        for tree in TREES.values():
+            for node in functions(tree):
+                if node.decorator_list:
+                    self.assertEqual(["self"], [argument.arg for argument in node.args.args])
+                    self.assertEqual([], walk(node, kinds), node.name)
+                    self.assertIsInstance(node.body[-1], ast.Return)
+
+    def test_blocks_are_over_own_objects_and_end_with_assignments(self):
+        for tree in TREES.values():
+            for node in walk(tree, ast.With):
+                self.assertEqual([ast.Call], [item.context_expr.__class__ for item in node.items])
+            for node in functions(tree):
+                if node.name == "__exit__":
+                    self.assertEqual("self kind value trace".split(), [item.arg for item in node.args.args])
+                    for row in node.body:
+                        self.assertIsInstance(row, ast.Assign)
+                        self.assertEqual(1, len(row.targets))
+                        self.assertIsInstance(row.targets[0], ast.Attribute)
+                        self.assertIsInstance(row.value, ast.Attribute)
+
+    def test_texts_in_braces(self):
+        for file, tree in TREES.items():
+            for node in walk(tree, ast.JoinedStr):
+                self.assertEqual(node.lineno, node.end_lineno)
+                for part in walk(node, ast.FormattedValue):
+                    self.assertEqual((-1, None), (part.conversion, part.format_spec))
+                    self.assertEqual([], [n for n in walk(part, ast.Constant) if isinstance(n.value, str)], file)
 
     def test_values(self):
         for file, tree in TREES.items():
