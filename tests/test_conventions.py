@@ -3,16 +3,26 @@
 import inspect
 from importlib import import_module
 
+from surelyplan import choosing, questions
+from surelyplan.choosing import Calmest, CostEnds, Surely, Torn, cost_ends, find_calmest, judge_plans, least_regret
+from surelyplan.choosing import reach_costs, regret, regret_after
+from surelyplan.desks import Desk
 from surelyplan.errors import PlanError
+from surelyplan.plans import Cheapest, Plan, all_plans, cheapest, cost, count_plans, least_cost, step_costs
 from surelyplan.queries import Query, answer, answer_size, assignments
+from surelyplan.questions import Asked, ask, fewest_questions, left_after
 from surelyplan.renaming import Apart, Renamed, judge_renamed, same_counts
+from surelyplan.running import Run, run_through
 from surelyplan.schemas import Data, Schema
+from surelyplan.shipping import Shipped, most_moved, moved, run_apart, ship, ship_surely
 from surelyplan.sizes import Covered, SizeEnds, cover, cover_bound, reach_sizes, size_ends
 from surelyplan.statistics import Against, Agrees, Crossed, Statistics
 from surelyplan.statistics import agree, all_tables, broken_notes, count_tables, has_tables, judge_table
+from surelyplan.texts import data_text, notes_text, query_text, read_data, read_notes, read_query, read_schema, schema_text
 from surelyplan.weighing import Weighed, follows, needed_notes, tightest, weigh, weighed_ends
 from surelyplan.within import Beyond, Leanest, Within
 from surelyplan.within import fewest_atoms, frozen, is_within, judge_within, leanest, leanest_query, show_same
+from surelyplan.words import Word, split_words
 from tests.checks import DATA, SCHEMA, STATS, Case
 
 FREE = Query(SCHEMA, ((0, (0, 1)), (1, (1,))), (), (0,))
@@ -21,6 +31,28 @@ NARROW = Statistics(SCHEMA, STATS.notes + (("cell", 1, (0,), 1, 1), ("cell", 1, 
 NONE = Statistics(SCHEMA, [("rows", 1, 3, 2)])
 WEIGHTS = (5, 1, 1, 5)
 LOW = {("top", 0): 1}
+PLAN, CROOKED = Plan((0, 1), ("scan", "left")), Plan((0,), ("left",))
+NAMED = {(PLAN.order, PLAN.ways): DATA}
+TRIP = (2, (0, None), (1, 0))
+WAYS = (("split", 1),)
+TREE = (("cell", (0, 0)), {0: None, 1: None})
+
+
+def run_begun():
+    """A run in which some rows wait and some have been told."""
+    run = Run(FREE, DATA, (0, 1))
+    for _ in range(3):
+        run.step()
+    return run
+
+
+def desk_begun():
+    desk = Desk(STATS, DATA)
+    desk.note(("rows", 1, 0, 9))
+    desk.put(1, (0,))
+    return desk
+
+
 
 # All calls of the package with arguments of which most are right and some are wrong.
 CALLS = [
@@ -50,6 +82,35 @@ CALLS = [
     (Within([0, 1]).shows, [(FREE, FREE)]), (Beyond(DATA).shows, [(FREE, FREE)]), (Leanest([0], [1]).shows, [(FREE,)]),
     (judge_renamed, [(FREE, FREE), (FREE, FILTERED)]), (same_counts, [(FREE, FREE)]),
     (Renamed([0, 1]).shows, [(FREE, FREE)]), (Apart(DATA).shows, [(FREE, FREE)]),
+    (Plan, [([0, 1], ["scan", "left"])]), (all_plans, [(FREE,), (None,)]), (count_plans, [(FREE,)]),
+    (cost, [(FREE, PLAN, DATA), (FREE, CROOKED, DATA)]), (step_costs, [(FREE, PLAN, DATA), (FILTERED, PLAN, DATA)]),
+    (cheapest, [(FREE, DATA), (FILTERED, DATA)]), (least_cost, [(FREE, DATA)]), (Cheapest, [(PLAN, {(): 0, (0,): 1})]),
+    (cheapest(FREE, DATA).shows, [(FREE, DATA), (FILTERED, DATA)]),
+    (Run, [(FREE, DATA, (0, 1)), (FREE, DATA, [0, 1])]), (run_through, [(FREE, DATA, (1, 0)), (FREE, DATA, (0,))]),
+    (run_begun().waiting, [()]), (run_begun().told, [()]), (run_begun().rest, [()]), (run_begun().seen, [()]),
+    (run_begun().branch, [()]), (run_begun().is_done, [()]), (run_begun().change_order, [((0,),)]),
+    (regret, [(FREE, PLAN, DATA), (FREE, CROOKED, DATA)]), (cost_ends, [(NARROW, FREE, PLAN), (NARROW, FREE, CROOKED)]),
+    (reach_costs, [(NARROW, FREE, PLAN), (STATS, FREE, PLAN)]), (judge_plans, [(NARROW, FREE), (STATS, FREE)]),
+    (find_calmest, [(NARROW, FREE)]), (least_regret, [(NARROW, FREE), (NONE, FREE)]),
+    (regret_after, [(NARROW, FREE, 0, 3), (NARROW, FREE, 0, 9)]), (choosing.best_questions, [(NARROW, FREE)]),
+    (CostEnds(DATA, DATA).shows, [(NARROW, FREE, PLAN)]), (Surely(PLAN).shows, [(NARROW, FREE)]), (Surely, [(PLAN,)]),
+    (Torn(NAMED).shows, [(NARROW, FREE)]), (Torn, [(NAMED,)]), (Calmest, [(PLAN, 2, NAMED)]),
+    (find_calmest(NARROW, FREE).shows, [(NARROW, FREE), (STATS, FREE)]),
+    (ship, [(FREE, DATA) + TRIP, (FILTERED, DATA) + TRIP, (FREE, DATA, 4, (0, 0), (0, 1))]),
+    (moved, [(FREE, DATA) + TRIP + (WAYS,), (FREE, DATA) + TRIP + ([],)]), (run_apart, [(FREE, DATA) + TRIP + (WAYS,)]),
+    (ship_surely, [(NARROW, FREE) + TRIP, (STATS, FREE) + TRIP]), (most_moved, [(NARROW, FREE) + TRIP + (WAYS,)]),
+    (Shipped, [([("copy",)], {(1, None): 0})]), (ship(FREE, DATA, *TRIP).shows, [(FREE, DATA) + TRIP]),
+    (ship_surely(NARROW, FREE, *TRIP).shows_surely, [(NARROW, FREE) + TRIP]),
+    (Desk, [(STATS, DATA), (NONE, DATA)]), (desk_begun().branch, [()]), (desk_begun().drop, [(9,)]),
+    (lambda: desk_begun().known, [()]), (lambda: desk_begun().now, [()]), (lambda: desk_begun().journal, [()]),
+    (split_words, [("show a 12",), ("a A",), (None,)]), (Word, [("word", "a", 0)]),
+    (schema_text, [(SCHEMA,)]), (data_text, [(DATA,), (None,)]), (notes_text, [(STATS,)]), (query_text, [(FREE,), (FILTERED,)]),
+    (read_schema, [("values 2 widths 1",), ("values 2",)]), (read_data, [(SCHEMA, "r: nothing; s: (1) has 2")]),
+    (read_notes, [(SCHEMA, "rows of r: 0 to 1"), (SCHEMA, "rows of t: 0 to 1")]),
+    (read_query, [(SCHEMA, "show a from s(a) where a in {}"), (SCHEMA, "show b from s(a)")]),
+    (left_after, [(STATS, 0, ("rows",)), (STATS, 0, ["rows"])]), (questions.best_questions, [(STATS, 0), (STATS, 2)]),
+    (ask, [(STATS, 0), (NONE, 1), (NONE, 0)]), (fewest_questions, [(STATS, 0)]), (Asked, [(TREE,), (None,)]),
+    (Asked(TREE).shows, [(STATS, 0), (STATS, 1)]),
 ]
 
 INTERFACE = {
@@ -79,6 +140,32 @@ INTERFACE = {
     "renaming": {
         "judge_renamed": "one other", "same_counts": "one other", "Renamed": "mapping", "Apart": "data",
     },
+    "shipping": {
+        "ship": "query data machines places order", "moved": "query data machines places order ways",
+        "run_apart": "query data machines places order ways", "ship_surely": "stats query machines places order",
+        "most_moved": "stats query machines places order ways", "Shipped": "ways sums",
+    },
+    "plans": {
+        "Plan": "order ways", "all_plans": "query", "count_plans": "query", "cost": "query plan data",
+        "step_costs": "query plan data", "cheapest": "query data", "least_cost": "query data", "Cheapest": "plan floors",
+    },
+    "running": {"Run": "query data order", "run_through": "query data order"},
+    "choosing": {
+        "regret": "query plan data", "cost_ends": "stats query plan", "reach_costs": "stats query plan",
+        "judge_plans": "stats query", "find_calmest": "stats query", "least_regret": "stats query",
+        "regret_after": "stats query table index", "best_questions": "stats query", "CostEnds": "least greatest",
+        "Surely": "plan", "Torn": "against", "Calmest": "plan number worst",
+    },
+    "desks": {"Desk": "stats data"},
+    "words": {"split_words": "text", "Word": "kind said at"},
+    "texts": {
+        "schema_text": "schema", "data_text": "data", "notes_text": "stats", "query_text": "query", "read_schema": "text",
+        "read_data": "schema text", "read_notes": "schema text", "read_query": "schema text",
+    },
+    "questions": {
+        "left_after": "stats table quantity", "best_questions": "stats table", "ask": "stats table",
+        "fewest_questions": "stats table", "Asked": "tree",
+    },
 }
 METHODS = {
     "Schema": {"__len__": "", "cells": "table"},
@@ -90,7 +177,21 @@ METHODS = {
     "Weighed": {"shows": "stats table weights"}, "SizeEnds": {"shows": "stats query"}, "Covered": {"shows": "stats query"},
     "Within": {"shows": "one other"}, "Beyond": {"shows": "one other"}, "Leanest": {"shows": "query"},
     "Renamed": {"shows": "one other"}, "Apart": {"shows": "one other"},
+    "Shipped": {"shows": "query data machines places order", "shows_surely": "stats query machines places order"},
+    "Plan": {}, "Cheapest": {"shows": "query data"}, "CostEnds": {"shows": "stats query plan"},
+    "Run": {
+        "__len__": "", "is_done": "", "waiting": "", "told": "", "rest": "", "seen": "", "step": "", "finish": "",
+        "change_order": "order", "branch": "",
+    },
+    "Surely": {"shows": "stats query"}, "Torn": {"shows": "stats query"}, "Calmest": {"shows": "stats query"},
+    "Desk": {
+        "__len__": "", "put": "table cell", "take": "table cell", "note": "note", "drop": "index", "undo": "", "branch": "",
+        "trial": "", "attempt": "work",
+    },
+    "Word": {}, "Asked": {"shows": "stats table"},
 }
+# Runs and desks are equal to nothing else.
+WITHOUT_EQUALITY = ("Run", "Desk")
 
 
 def picture(value):
@@ -140,7 +241,8 @@ class Conventions(Case):
 
     def test_no_call_raises_any_other_error(self):
         named = [name for call, several in CALLS for name, _ in [outcome(call, each) for each in several]]
-        self.assertTrue({"BadSchema", "BadData", "BadQuery", "BadNotes", "TooLarge", "Disagrees"} <= set(named))
+        wanted = "BadSchema BadData BadQuery BadNotes TooLarge Disagrees BadPlan BadIndex BadMachines BadShipping BadText"
+        self.assertEqual(set(), set(wanted.split()) - set(named))
 
     def test_results_can_be_changed_without_effect(self):
         for call, several in CALLS:
@@ -191,10 +293,14 @@ class Interface(Case):
             module = import_module(f"surelyplan.{file}")
             for name in names:
                 if name in METHODS:
-                    self.assertIn("__eq__", vars(getattr(module, name)))
+                    self.assertEqual(name not in WITHOUT_EQUALITY, "__eq__" in vars(getattr(module, name)))
                     for method, parameters in METHODS[name].items():
                         self.assertIn(method, vars(getattr(module, name)))
                         self.assertEqual(parameters.split(), self.parameters(getattr(getattr(module, name), method)))
+
+    def test_properties(self):
+        for name in ("known", "now", "journal"):
+            self.assertIsInstance(vars(Desk)[name], property)
 
     def test_each_class_of_the_interface_is_listed(self):
         classes = {name for names in INTERFACE.values() for name in names if name[0].isupper()}

@@ -37,6 +37,30 @@ class Examples(TestCase):
     def test_renaming(self):
         self.check("renaming", 8)
 
+    def test_shipping(self):
+        self.check("shipping", 10)
+
+    def test_plans(self):
+        self.check("plans", 8)
+
+    def test_running(self):
+        self.check("running", 9)
+
+    def test_choosing(self):
+        self.check("choosing", 12)
+
+    def test_desks(self):
+        self.check("desks", 7)
+
+    def test_words(self):
+        self.check("words", 2)
+
+    def test_texts(self):
+        self.check("texts", 5)
+
+    def test_questions(self):
+        self.check("questions", 6)
+
     def test_readme(self):
         text = (FOLDER.parent.parent / "README.md").read_text()
-        self.check("README", 11, "".join(text.split("```\n")[1:2]))
+        self.check("README", 18, "".join(text.split("```\n")[1:2]))
