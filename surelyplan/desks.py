@@ -3,9 +3,8 @@
 from surelyplan.errors import BadCell, BadIndex, BadNotes, Disagrees, NotPossible, NothingDone
 from surelyplan.notes import agrees_with, is_note
 from surelyplan.plain import is_between
-from surelyplan.queries import need_same_schema
-from surelyplan.schemas import MOST_COUNT, Data, cell_place, is_cell, need_data, need_table
-from surelyplan.statistics import MOST_NOTES, Statistics, broken_notes, need_statistics
+from surelyplan.schemas import MOST_COUNT, Data, cell_place, is_cell, need_table
+from surelyplan.statistics import MOST_NOTES, Statistics, broken_notes
 
 
 class Trial:
@@ -41,9 +40,6 @@ class Desk:
     """
 
     def __init__(self, stats, data):
-        need_statistics(stats)
-        need_data(data)
-        need_same_schema(stats, data)
         broken = broken_notes(stats, data)
         if broken != []:
             raise Disagrees(broken[0])

@@ -340,6 +340,7 @@ class ShowsChoices(Case):
             other = ((False,) + name[0][1:], name[1]) if name[0][0] == 0 else ((True,) + name[0][1:], name[1])
             fewer = {place: right[place] for place in right if place != name}
             self.assertIs(shows({**fewer, other: right[name]}), False)
+            self.assertIs(shows({**fewer, ((0, 1), ("scan", "right")): right[name]}), False)
         some = list(right.values())[0]
         for name in (((0, 1), ("scan", "right")), ((0,), ("scan",)), ((), ()), ((1, 0), ("left", "left"))):
             self.assertIs(shows({**right, name: some}), False)

@@ -385,7 +385,7 @@ class Code(TestCase):
                 over = {name.id for name in walk(loop.iter, ast.Name)}
                 for node in loop.body:
                     for call in walk(node, ast.Call):
-                        if isinstance(call.func, ast.Attribute) and call.func.attr in ("append", "extend", "pop"):
+                        if isinstance(call.func, ast.Attribute) and call.func.attr in ("append", "extend", "pop", "setdefault"):
                             changed = {name.id for name in walk(call.func.value, ast.Name)}
                             self.assertEqual(set(), changed & over, (file, call.lineno))
                     for item in walk(node, ast.Subscript):

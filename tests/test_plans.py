@@ -5,7 +5,7 @@ from surelyplan.plans import Cheapest, Plan, all_plans, cheapest, cost, count_pl
 from surelyplan.queries import Query
 from surelyplan.schemas import Data, Schema
 from tests import oracle, slow
-from tests.checks import DATA, QUERY, SCHEMA, Case, Fault, odd_except
+from tests.checks import DATA, QUERY, SCHEMA, AlwaysEqual, Case, Fault, odd_except
 from tests.random_cases import any_schema, chance_of, draw_data, draw_query
 
 WIDE = Schema(3, (2, 1))
@@ -174,6 +174,7 @@ class BadPlans(Case):
         for ways in (
             ("scan",), ("scan", "scan", "scan"), (), ("left", "scan"), ("gather", "scan"), ("scan", "right"), ("scan", 0),
             ("scan", "Left"), ("scan", ""), ("scan", None), ("scan", ("scan",)), ("scan", "s"), ("scan", ["left"]),
+            ("scan", AlwaysEqual()), (AlwaysEqual(), "scan"),
         ):
             yield Plan((0, 1), ways)
 

@@ -180,6 +180,18 @@ class Trees(Case):
                 self.assertEqual((heights[-1], True), (height_of(told.tree), told.shows(stats, 0)))
         self.assertTrue({2, 3, 4} <= set(heights), heights)
 
+    def test_branches_for_which_the_most_even_question_is_too_slow(self):
+        notes = [
+            ("cell", 0, (0, 2), 2, 3), ("cell", 0, (2, 1), 0, 2), ("rows", 0, 5, 5), ("value", 0, 0, 1, 2, 3),
+            ("value", 0, 0, 2, 0, 1), ("value", 0, 1, 0, 0, 1), ("value", 0, 1, 1, 1, 2), ("value", 0, 1, 2, 3, 3),
+        ]
+        stats = Statistics(Schema(3, (2,)), notes)
+        tables = oracle.agreeing(stats, 0, product((0, 1), range(3), (2, 3), (0, 1), range(3), *[(0, 1)] * 4))
+        self.assertEqual((12, 4), (len(tables), least_height(stats, 0, tables)))
+        told = ask(stats, 0)
+        self.assertEqual((4, True), (height_of(told.tree), is_tree(stats, 0, told.tree, tables)))
+        self.assertIs(told.shows(stats, 0), True)
+
     def test_all_trees_where_these_are_few(self):
         line = Statistics(Schema(2, (1,)), [("rows", 0, 3, 4), ("cell", 0, (0,), 2, 3)])
         for stats, least, many in ((FOUR, 2, 72), (STATS, 1, 4), (line, 2, 40), (SPREAD, 3, 2496)):
