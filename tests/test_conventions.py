@@ -8,10 +8,14 @@ from surelyplan.choosing import Calmest, CostEnds, Surely, Torn, cost_ends, find
 from surelyplan.choosing import reach_costs, regret, regret_after
 from surelyplan.desks import Desk
 from surelyplan.errors import PlanError
+from surelyplan.expressions import columns, evaluate, expression_of
 from surelyplan.plans import Cheapest, Plan, all_plans, cheapest, cost, count_plans, least_cost, step_costs
+from surelyplan.polynomials import Equal, Unequal, are_equal, degree, judge_equal, polynomials, value_on
+from surelyplan.proofs import Proof, count_reached, fewest_steps, prove
 from surelyplan.queries import Query, answer, answer_size, assignments
 from surelyplan.questions import Asked, ask, fewest_questions, left_after
 from surelyplan.renaming import Apart, Renamed, judge_renamed, same_counts
+from surelyplan.rules import possible_steps, rewrite
 from surelyplan.running import Run, run_through
 from surelyplan.schemas import Data, Schema
 from surelyplan.shipping import Shipped, most_moved, moved, run_apart, ship, ship_surely
@@ -35,6 +39,9 @@ PLAN, CROOKED = Plan((0, 1), ("scan", "left")), Plan((0,), ("left",))
 NAMED = {(PLAN.order, PLAN.ways): DATA}
 TRIP = (2, (0, None), (1, 0))
 WAYS = (("split", 1),)
+JOIN, TWICE = ("join", ("table", 0), ("table", 1)), ("both", ("table", 1), ("table", 1))
+LOWER, WRONG = ("filter", 0, (0, 1), ("filter", 0, (0,), ("table", 1))), ("join", ["table", 0], ("table", 1))
+TERMS = {(0,): {((1, (0,)),): 2}, (1,): {((1, (1,)),): 2}}
 TREE = (("cell", (0, 0)), {0: None, 1: None})
 
 
@@ -111,6 +118,16 @@ CALLS = [
     (left_after, [(STATS, 0, ("rows",)), (STATS, 0, ["rows"])]), (questions.best_questions, [(STATS, 0), (STATS, 2)]),
     (ask, [(STATS, 0), (NONE, 1), (NONE, 0)]), (fewest_questions, [(STATS, 0)]), (Asked, [(TREE,), (None,)]),
     (Asked(TREE).shows, [(STATS, 0), (STATS, 1)]),
+    (columns, [(SCHEMA, JOIN), (SCHEMA, WRONG)]), (evaluate, [(DATA, JOIN), (DATA, TWICE), (DATA, WRONG)]),
+    (expression_of, [(FREE,), (FILTERED,), (None,)]), (polynomials, [(SCHEMA, JOIN), (SCHEMA, TWICE), (SCHEMA, WRONG)]),
+    (degree, [(SCHEMA, JOIN)]), (value_on, [(TERMS[(0,)], DATA), ({}, DATA)]), (Equal, [(TERMS,)]), (Unequal, [(DATA,)]),
+    (judge_equal, [(SCHEMA, TWICE, TWICE), (SCHEMA, TWICE, LOWER), (SCHEMA, TWICE, JOIN)]), (are_equal, [(SCHEMA, JOIN, JOIN)]),
+    (Equal(TERMS).shows, [(SCHEMA, TWICE, TWICE), (SCHEMA, TWICE, LOWER)]), (Unequal(DATA).shows, [(SCHEMA, TWICE, LOWER)]),
+    (rewrite, [(SCHEMA, JOIN, "swap join", ()), (SCHEMA, LOWER, "all values", ()), (SCHEMA, JOIN, "collect", ()), (SCHEMA, JOIN, [], [])]),
+    (possible_steps, [(SCHEMA, JOIN), (SCHEMA, LOWER), (SCHEMA, WRONG)]),
+    (prove, [(SCHEMA, LOWER, LOWER[3], 2), (SCHEMA, LOWER[3], LOWER, 2), (SCHEMA, LOWER, LOWER, 5)]),
+    (fewest_steps, [(SCHEMA, LOWER, LOWER[3], 2)]), (count_reached, [(SCHEMA, LOWER, 2), (SCHEMA, JOIN, True)]),
+    (Proof, [([["all values", ()]],)]), (Proof([["all values", ()]]).shows, [(SCHEMA, LOWER, LOWER[3]), (SCHEMA, JOIN, JOIN)]),
 ]
 
 INTERFACE = {
@@ -166,6 +183,16 @@ INTERFACE = {
         "left_after": "stats table quantity", "best_questions": "stats table", "ask": "stats table",
         "fewest_questions": "stats table", "Asked": "tree",
     },
+    "expressions": {"columns": "schema expression", "evaluate": "data expression", "expression_of": "query"},
+    "polynomials": {
+        "polynomials": "schema expression", "degree": "schema expression", "value_on": "terms data",
+        "judge_equal": "schema one other", "are_equal": "schema one other", "Equal": "rows", "Unequal": "data",
+    },
+    "rules": {"rewrite": "schema expression rule path", "possible_steps": "schema expression"},
+    "proofs": {
+        "prove": "schema one other most", "fewest_steps": "schema one other most", "count_reached": "schema expression most",
+        "Proof": "steps",
+    },
 }
 METHODS = {
     "Schema": {"__len__": "", "cells": "table"},
@@ -188,7 +215,8 @@ METHODS = {
         "__len__": "", "put": "table cell", "take": "table cell", "note": "note", "drop": "index", "undo": "", "branch": "",
         "trial": "", "attempt": "work",
     },
-    "Word": {}, "Asked": {"shows": "stats table"},
+    "Word": {}, "Asked": {"shows": "stats table"}, "Equal": {"shows": "schema one other"}, "Unequal": {"shows": "schema one other"},
+    "Proof": {"__len__": "", "shows": "schema one other"},
 }
 # Runs and desks are equal to nothing else.
 WITHOUT_EQUALITY = ("Run", "Desk")
@@ -241,7 +269,8 @@ class Conventions(Case):
 
     def test_no_call_raises_any_other_error(self):
         named = [name for call, several in CALLS for name, _ in [outcome(call, each) for each in several]]
-        wanted = "BadSchema BadData BadQuery BadNotes TooLarge Disagrees BadPlan BadIndex BadMachines BadShipping BadText"
+        wanted = "BadSchema BadData BadQuery BadNotes TooLarge Disagrees BadPlan BadIndex BadMachines BadShipping BadText "
+        wanted += "BadExpression BadNumber NotPossible Unlike"
         self.assertEqual(set(), set(wanted.split()) - set(named))
 
     def test_results_can_be_changed_without_effect(self):

@@ -61,6 +61,18 @@ class Examples(TestCase):
     def test_questions(self):
         self.check("questions", 6)
 
+    def test_expressions(self):
+        self.check("expressions", 8)
+
+    def test_polynomials(self):
+        self.check("polynomials", 7)
+
+    def test_rules(self):
+        self.check("rules", 5)
+
+    def test_proofs(self):
+        self.check("proofs", 6)
+
     def test_readme(self):
         text = (FOLDER.parent.parent / "README.md").read_text()
         self.check("README", 18, "".join(text.split("```\n")[1:2]))

@@ -164,7 +164,20 @@ class Names(TestCase):
                 self.assertIsInstance(node, kinds)
                 if isinstance(node, ast.Assign):
                     self.assertEqual(1, len(node.targets))
-                    self.assertIsInstance(ast.literal_eval(node.value), (int, str, tuple))
+                    self.assert_plain(node, tree)
+
+    def assert_plain(self, node, tree):
+        """A value is written out; it may be a dict from texts to functions that are defined above it."""
+        if isinstance(node.value, ast.Dict) and isinstance(node.value.values[0], ast.Name):
+            above = [item.name for item in tree.body[:tree.body.index(node)] if isinstance(item, ast.FunctionDef)]
+            for key, worth in zip(node.value.keys, node.value.values):
+                self.assertIsInstance(key.value, str)
+                self.assertIn(worth.id, above)
+        else:
+            value = ast.literal_eval(node.value)
+            self.assertIsInstance(value, (int, str, tuple, dict))
+            if isinstance(value, dict):
+                self.assertEqual({str, tuple}, {part.__class__ for pair in value.items() for part in pair})
 
     def test_names_are_plain(self):
         for file, tree in TREES.items():
