@@ -5,8 +5,7 @@ from itertools import permutations
 from surelyplan.errors import BadPlan
 from surelyplan.joining import atom_rows, group_rows, join_rows, no_atoms
 from surelyplan.plain import all_tuples, index_groups, is_group, is_integer
-from surelyplan.queries import is_order, need_query, need_same_schema
-from surelyplan.schemas import need_data
+from surelyplan.queries import check_query_and_data, is_order, need_query
 
 SIDES = ("left", "right")
 
@@ -34,7 +33,7 @@ class Cheapest:
 
     def shows(self, query, data):
         """Return whether the plan is one for the query, and the floors show that none costs less."""
-        _check_query(query, data)
+        check_query_and_data(query, data)
         plan = copy_plan(self.plan)
         if not is_plan(query, plan) or not _are_floors(query, self.floors):
             return False
@@ -68,7 +67,7 @@ def cost(query, plan, data):
 
 def step_costs(query, plan, data):
     """Return the list of pairs of the numbers of rows that each step reads and makes."""
-    _check_query(query, data)
+    check_query_and_data(query, data)
     need_plan(query, plan)
     rows = no_atoms()
     costs = []
@@ -81,7 +80,7 @@ def step_costs(query, plan, data):
 
 def cheapest(query, data):
     """Return a `Cheapest`."""
-    _check_query(query, data)
+    check_query_and_data(query, data)
     floors, plans = _search(query, steps_of(query, data))
     return Cheapest(plans[tuple(range(len(query)))], floors)
 
@@ -131,12 +130,6 @@ def cost_by_steps(steps, plan):
     for step, way in enumerate(plan.ways):
         total += steps[(tuple(sorted(plan.order[:step])), plan.order[step])][way]
     return total
-
-
-def _check_query(query, data):
-    need_query(query)
-    need_data(data)
-    need_same_schema(query, data)
 
 
 def _ways_of_step(query, order, step):

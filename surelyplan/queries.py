@@ -57,6 +57,13 @@ def need_same_schema(one, other):
         raise Unlike("the schemas are different")
 
 
+def check_query_and_data(query, data):
+    """Raise an error unless arguments are a query and data with the same schema."""
+    need_query(query)
+    need_data(data)
+    need_same_schema(query, data)
+
+
 def is_order(query, order):
     """Return whether a value is an order of a query: a tuple with each index of an atom exactly once."""
     many = len(query)
@@ -87,9 +94,7 @@ def count_variables(atoms):
 
 def assignments(query, data):
     """Return a dict from the values of all variables to the counts above 0 of the assignments."""
-    need_query(query)
-    need_data(data)
-    need_same_schema(query, data)
+    check_query_and_data(query, data)
     found = {(): 1}
     for variable in range(query.variables()):
         found = _with_variable(query, data, found, variable)

@@ -3,8 +3,7 @@
 from surelyplan.errors import NotPossible
 from surelyplan.joining import atom_cells
 from surelyplan.plain import all_tuples
-from surelyplan.queries import need_order, need_query, need_same_schema
-from surelyplan.schemas import need_data
+from surelyplan.queries import check_query_and_data, need_order
 
 
 class Run:
@@ -15,9 +14,7 @@ class Run:
     """
 
     def __init__(self, query, data, order):
-        need_query(query)
-        need_data(data)
-        need_same_schema(query, data)
+        check_query_and_data(query, data)
         need_order(query, order)
         self.query = query
         self.data = data

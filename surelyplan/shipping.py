@@ -3,8 +3,7 @@
 from surelyplan.errors import BadMachines, BadShipping
 from surelyplan.joining import atom_rows, join_rows, joined_rows
 from surelyplan.plain import is_between, is_group, is_integer
-from surelyplan.queries import need_order, need_query, need_same_schema, part_of
-from surelyplan.schemas import need_data
+from surelyplan.queries import check_query_and_data, need_order, part_of
 from surelyplan.sizes import check_notes_and_query, size_ends
 
 MOST_MACHINES = 3
@@ -134,9 +133,7 @@ def most_moved(stats, query, machines, places, order, ways):
 
 
 def _check_on_data(query, data, machines, places, order):
-    need_query(query)
-    need_data(data)
-    need_same_schema(query, data)
+    check_query_and_data(query, data)
     _check_machines(query, machines, places)
     need_order(query, order)
 

@@ -4,11 +4,15 @@ import inspect
 from importlib import import_module
 
 from surelyplan import choosing, questions
+from surelyplan.blocks import FirstTorn, SurelyFirst
+from surelyplan.blocks import block_ends, blocks_to_read, judge_first, rows_from_blocks, run_count, stored_blocks, zones
 from surelyplan.choosing import Calmest, CostEnds, Surely, Torn, cost_ends, find_calmest, judge_plans, least_regret
 from surelyplan.choosing import reach_costs, regret, regret_after
+from surelyplan.copies import Loads, can_run, greatest_load, loads_with_copy, read_evenly, stopping_sets, surely_greatest_load
 from surelyplan.desks import Desk
 from surelyplan.errors import PlanError
 from surelyplan.expressions import columns, evaluate, expression_of
+from surelyplan.limits import least_moves, memory_needed, order_moves, step_moves
 from surelyplan.plans import Cheapest, Plan, all_plans, cheapest, cost, count_plans, least_cost, step_costs
 from surelyplan.polynomials import Equal, Unequal, are_equal, degree, judge_equal, polynomials, value_on
 from surelyplan.proofs import Proof, count_reached, fewest_steps, prove
@@ -20,6 +24,7 @@ from surelyplan.running import Run, run_through
 from surelyplan.schemas import Data, Schema
 from surelyplan.shipping import Shipped, most_moved, moved, run_apart, ship, ship_surely
 from surelyplan.sizes import Covered, SizeEnds, cover, cover_bound, reach_sizes, size_ends
+from surelyplan.sorting import Merging, best_merging, first_runs, least_moved, sort_cost, sort_rows
 from surelyplan.statistics import Against, Agrees, Crossed, Statistics
 from surelyplan.statistics import agree, all_tables, broken_notes, count_tables, has_tables, judge_table
 from surelyplan.texts import data_text, notes_text, query_text, read_data, read_notes, read_query, read_schema, schema_text
@@ -41,6 +46,11 @@ TRIP = (2, (0, None), (1, 0))
 WAYS = (("split", 1),)
 JOIN, TWICE = ("join", ("table", 0), ("table", 1)), ("both", ("table", 1), ("table", 1))
 LOWER, WRONG = ("filter", 0, (0, 1), ("filter", 0, (0,), ("table", 1))), ("join", ["table", 0], ("table", 1))
+HOMES = ((0, 1), (1, 2))
+ONLY = Query(SCHEMA, ((0, (0, 0)),), (), ())
+TORN = Statistics(SCHEMA, [("rows", 0, 0, 9)])
+EXACT = Statistics(SCHEMA, [("cell", table, cell, count, count) for table in (0, 1) for cell, count in zip(SCHEMA.cells(table), DATA.tables[table])])
+TURNED = (SCHEMA, ("join", ("table", 0), ("both", LOWER, LOWER[3])), ("join", ("table", 0), ("both", LOWER[3], LOWER)))
 TERMS = {(0,): {((1, (0,)),): 2}, (1,): {((1, (1,)),): 2}}
 TREE = (("cell", (0, 0)), {0: None, 1: None})
 
@@ -58,7 +68,6 @@ def desk_begun():
     desk.note(("rows", 1, 0, 9))
     desk.put(1, (0,))
     return desk
-
 
 
 # All calls of the package with arguments of which most are right and some are wrong.
@@ -127,6 +136,20 @@ CALLS = [
     (possible_steps, [(SCHEMA, JOIN), (SCHEMA, LOWER), (SCHEMA, WRONG)]),
     (prove, [(SCHEMA, LOWER, LOWER[3], 2), (SCHEMA, LOWER[3], LOWER, 2), (SCHEMA, LOWER, LOWER, 5)]),
     (fewest_steps, [(SCHEMA, LOWER, LOWER[3], 2)]), (count_reached, [(SCHEMA, LOWER, 2), (SCHEMA, JOIN, True)]),
+    (can_run, [(FREE, 3, HOMES, ()), (FREE, 3, HOMES, (0, 1)), (FREE, 3, HOMES, [])]), (stopping_sets, [(FREE, 3, HOMES), (FREE, 0, HOMES)]),
+    (read_evenly, [(FREE, DATA, 3, HOMES, ()), (FILTERED, DATA, 3, HOMES, (1,)), (FREE, DATA, 3, HOMES, (0, 1))]),
+    (greatest_load, [(FREE, DATA, 3, HOMES, ())]), (surely_greatest_load, [(STATS, FREE, 3, HOMES, ()), (NONE, FREE, 3, HOMES, ())]),
+    (loads_with_copy, [(FREE, DATA, 3, HOMES), (FREE, DATA, 2, HOMES)]), (Loads, [([{0: 1}, {}], [0])]),
+    (Loads([{0: 2, 1: 1}, {1: 1, 2: 2}], (0, 1)).shows, [(FREE, DATA, 3, HOMES, ()), (FREE, DATA, 3, HOMES, (1,))]),
+    (first_runs, [([5, 2, 9, 4], 3), ([5, True], 3)]), (sort_rows, [([5, 2, 9, 4], 3), ((5, 2), 9)]), (sort_cost, [(20, 3), (61, 3)]),
+    (best_merging, [([5, 1, 3, 1], 2), ([], 2)]), (least_moved, [((5, 1, 3, 1), 3)]), (Merging((0, 1)).shows, [([5, 1], 2), ([5], 2)]),
+    (stored_blocks, [(DATA, 0, 1, 2), (DATA, 1, 1, 2)]), (zones, [(DATA, 0, 1, 2)]), (run_count, [(DATA, 0, 1)]),
+    (blocks_to_read, [(FREE, DATA, 0, 1, 2), (FILTERED, DATA, 1, 0, 1)]), (rows_from_blocks, [(FREE, DATA, 0, 1, 2), (FREE, DATA, 0, 1, 0)]),
+    (block_ends, [(NARROW, FREE, 0, 1, 2), (STATS, FREE, 0, 1, 2), (STATS, ONLY, 0, 1, 1)]), (SurelyFirst(0).shows, [(NARROW, FREE, 0, 2)]),
+    (judge_first, [(NARROW, FREE, 0, 1), (TORN, ONLY, 0, 2), (NONE, FREE, 0, 1)]), (FirstTorn([DATA, DATA]).shows, [(TORN, ONLY, 0, 2)]),
+    (FirstTorn, [([DATA],)]), (step_moves, [(FREE, (0, 1), 1, DATA, 3), (FREE, [0, 1], 1, DATA, 3)]), (order_moves, [(FREE, (0, 1), DATA, 3)]),
+    (least_moves, [(FREE, DATA, 3), (FILTERED, DATA, 8)]), (memory_needed, [(FREE, DATA, 9), (FREE, DATA, -1)]),
+    (leanest(FREE).shows, [(FREE,)]), (judge_plans(EXACT, FREE).shows, [(EXACT, FREE)]), (Proof([("swap both", (1,))]).shows, [TURNED]),
     (Proof, [([["all values", ()]],)]), (Proof([["all values", ()]]).shows, [(SCHEMA, LOWER, LOWER[3]), (SCHEMA, JOIN, JOIN)]),
 ]
 
@@ -193,6 +216,25 @@ INTERFACE = {
         "prove": "schema one other most", "fewest_steps": "schema one other most", "count_reached": "schema expression most",
         "Proof": "steps",
     },
+    "copies": {
+        "can_run": "query many homes down", "stopping_sets": "query many homes", "read_evenly": "query data many homes down",
+        "greatest_load": "query data many homes down", "surely_greatest_load": "stats query many homes down",
+        "loads_with_copy": "query data many homes", "Loads": "parts machines",
+    },
+    "sorting": {
+        "first_runs": "rows memory", "sort_rows": "rows memory", "sort_cost": "many memory", "best_merging": "lengths fan",
+        "least_moved": "lengths fan", "Merging": "tree",
+    },
+    "blocks": {
+        "stored_blocks": "data table first block", "zones": "data table first block", "run_count": "data table first",
+        "blocks_to_read": "query data index first block", "rows_from_blocks": "query data index first block",
+        "block_ends": "stats query index first block", "judge_first": "stats query index block", "SurelyFirst": "first",
+        "FirstTorn": "against",
+    },
+    "limits": {
+        "step_moves": "query order step data memory", "order_moves": "query order data memory", "least_moves": "query data memory",
+        "memory_needed": "query data most",
+    },
 }
 METHODS = {
     "Schema": {"__len__": "", "cells": "table"},
@@ -216,9 +258,16 @@ METHODS = {
         "trial": "", "attempt": "work",
     },
     "Word": {}, "Asked": {"shows": "stats table"}, "Equal": {"shows": "schema one other"}, "Unequal": {"shows": "schema one other"},
-    "Proof": {"__len__": "", "shows": "schema one other"},
+    "Proof": {"__len__": "", "shows": "schema one other"}, "Loads": {"shows": "query data many homes down"},
+    "Merging": {"shows": "lengths fan"}, "SurelyFirst": {"shows": "stats query index block"},
+    "FirstTorn": {"shows": "stats query index block"},
 }
 # Runs and desks are equal to nothing else.
+# Classes that check what they are given.
+CHECKED = (Schema, Data, Query, Statistics, Desk, Run)
+YES_OR_NO = (
+    "shows", "shows_surely", "agree", "has_tables", "follows", "is_within", "show_same", "same_counts", "is_done", "are_equal", "can_run",
+)
 WITHOUT_EQUALITY = ("Run", "Desk")
 
 
@@ -253,7 +302,74 @@ def lists_and_dicts(value, found):
     return found
 
 
+def with_boolean(value):
+    """All values that are like a value, but have True or False in place of one 1 or 0."""
+    if value.__class__ is int and value in (0, 1):
+        return [bool(value)]
+    if isinstance(value, (list, tuple)):
+        items = list(value)
+        return [value.__class__(items[:at] + [other] + items[at + 1:]) for at, item in enumerate(items) for other in with_boolean(item)]
+    if isinstance(value, dict):
+        pairs = list(value.items())
+        return [dict(pairs[:at] + [other] + pairs[at + 1:]) for at, pair in enumerate(pairs) for other in with_boolean(pair)]
+    if isinstance(value, Plan):
+        return [Plan(order, value.ways) for order in with_boolean(value.order)]
+    return []
+
+
+def fresh(value):
+    """A copy of lists and dicts, with copies of those inside."""
+    if isinstance(value, (list, tuple)):
+        return value.__class__([fresh(item) for item in value])
+    return {key: fresh(worth) for key, worth in value.items()} if isinstance(value, dict) else value
+
+
 class Conventions(Case):
+
+    def test_booleans_are_not_integers_in_arguments(self):
+        changed = 0
+        for call, several in CALLS:
+            if isinstance(call, type) and call not in CHECKED or getattr(call, "__name__", "") in ("value_on", "allowed"):
+                continue
+            for arguments in several:
+                told = outcome(call, arguments)
+                if isinstance(told[1], dict):
+                    continue
+                for other in with_boolean(arguments):
+                    self.assertNotEqual(told, outcome(call, other), (call, other))
+                    changed += 1
+        self.assertTrue(changed > 200, changed)
+
+    def test_booleans_are_not_integers_in_attributes(self):
+        kinds = set()
+        for call, several in CALLS:
+            if getattr(call, "__name__", "") in ("shows", "shows_surely") and outcome(call, several[0])[1] == "True":
+                owner = call.__self__
+                for name, worth in vars(owner).items():
+                    for other in with_boolean(worth):
+                        kinds.add(owner.__class__.__name__)
+                        setattr(owner, name, other)
+                        self.assertIs(call(*several[0]), False, (owner.__class__, other))
+                    setattr(owner, name, worth)
+                self.assertIs(call(*several[0]), True)
+        with_integers = {
+            "Agrees", "Weighed", "Covered", "Within", "Leanest", "Renamed", "Shipped", "Cheapest", "Surely", "Calmest", "Asked", "Equal",
+            "Proof", "Loads", "Merging", "SurelyFirst",
+        }
+        self.assertEqual(set(), with_integers - kinds)
+
+    def test_arguments_are_not_kept(self):
+        for call, several in CALLS:
+            for arguments in several:
+                given = fresh(arguments)
+                try:
+                    told = call(*given)
+                except PlanError:
+                    continue
+                before = picture(told)
+                for part in lists_and_dicts(given, []):
+                    part.clear()
+                self.assertEqual(before, picture(told), call)
 
     def test_arguments_and_objects_stay_as_they_are(self):
         for call, several in CALLS:
@@ -270,7 +386,7 @@ class Conventions(Case):
     def test_no_call_raises_any_other_error(self):
         named = [name for call, several in CALLS for name, _ in [outcome(call, each) for each in several]]
         wanted = "BadSchema BadData BadQuery BadNotes TooLarge Disagrees BadPlan BadIndex BadMachines BadShipping BadText "
-        wanted += "BadExpression BadNumber NotPossible Unlike"
+        wanted += "BadExpression BadNumber BadMemory BadRows NotPossible Unlike"
         self.assertEqual(set(), set(wanted.split()) - set(named))
 
     def test_results_can_be_changed_without_effect(self):
@@ -298,7 +414,7 @@ class Conventions(Case):
     def test_answers_to_questions_are_true_or_false(self):
         for call, several in CALLS:
             name = getattr(call, "__name__", "")
-            if name in ("shows", "agree", "has_tables", "follows", "is_within", "show_same", "same_counts"):
+            if name in YES_OR_NO:
                 for arguments in several:
                     told = outcome(call, arguments)
                     self.assertTrue(told[0] == "bool" or isinstance(told[1], dict), (name, told))

@@ -73,6 +73,18 @@ class Examples(TestCase):
     def test_proofs(self):
         self.check("proofs", 6)
 
+    def test_copies(self):
+        self.check("copies", 9)
+
+    def test_sorting(self):
+        self.check("sorting", 3)
+
+    def test_blocks(self):
+        self.check("blocks", 10)
+
+    def test_limits(self):
+        self.check("limits", 7)
+
     def test_readme(self):
         text = (FOLDER.parent.parent / "README.md").read_text()
         self.check("README", 18, "".join(text.split("```\n")[1:2]))
