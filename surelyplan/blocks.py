@@ -3,9 +3,9 @@
 from surelyplan.errors import BadMemory, BadNumber
 from surelyplan.joining import atom_cells
 from surelyplan.plain import is_between, is_sequence
-from surelyplan.queries import check_query_and_data
+from surelyplan.queries import check_query_and_data, used_tables
 from surelyplan.schemas import Data, need_data, need_table
-from surelyplan.sizes import check_notes_and_query, some_counts, table_choices, used_tables
+from surelyplan.sizes import check_notes_and_query, some_counts, table_choices
 from surelyplan.statistics import MOST_LISTED, agree
 
 MOST_IN_BLOCK = 8
@@ -22,8 +22,8 @@ class SurelyFirst:
 
     def shows(self, stats, query, index, block):
         """Return whether the column is one of the table of the atom, and first for sure."""
-        _check_notes(stats, query, index)
-        numbers = _numbers_of_all(stats, query, index, block)
+        networks = _check_notes(stats, query, index)
+        numbers = _numbers_of_all(networks, query, index, block)
         if not is_between(self.first, 0, len(query.atoms[index][1]) - 1):
             return False
         return all([read[self.first] == min(read) for counts, read in numbers])
@@ -40,8 +40,8 @@ class FirstTorn:
 
     def shows(self, stats, query, index, block):
         """Return whether the data agree, and sorting by another column needs fewer blocks on those of each one."""
-        _check_notes(stats, query, index)
-        _agreeing_tables(stats, query, index, block)
+        networks = _check_notes(stats, query, index)
+        _agreeing_tables(networks, query, index, block)
         table, variables = query.atoms[index]
         if not is_sequence(self.against) or len(self.against) != len(variables):
             return False
@@ -119,22 +119,22 @@ def rows_from_blocks(query, data, index, first, block):
 
 def block_ends(stats, query, index, first, block):
     """Return the pair of the smallest and the greatest number of blocks that must be read, over all agreeing data."""
-    _check_notes(stats, query, index)
+    networks = _check_notes(stats, query, index)
     _need_column(query.schema, query.atoms[index][0], first)
-    numbers = [read[first] for counts, read in _numbers_of_all(stats, query, index, block)]
+    numbers = [read[first] for counts, read in _numbers_of_all(networks, query, index, block)]
     return min(numbers), max(numbers)
 
 
 def judge_first(stats, query, index, block):
     """Return a `SurelyFirst`, or a `FirstTorn` if no column is first for sure."""
-    _check_notes(stats, query, index)
-    numbers = _numbers_of_all(stats, query, index, block)
+    networks = _check_notes(stats, query, index)
+    numbers = _numbers_of_all(networks, query, index, block)
     against = []
     for column in range(len(query.atoms[index][1])):
         worse = [counts for counts, read in numbers if min(read) < read[column]]
         if worse == []:
             return SurelyFirst(column)
-        tables = some_counts(stats)
+        tables = some_counts(networks)
         tables[query.atoms[index][0]] = worse[0]
         against.append(Data(stats.schema, tables))
     return FirstTorn(against)
@@ -154,15 +154,17 @@ def _check_atom(query, data, index, first, block):
 
 
 def _check_notes(stats, query, index):
-    check_notes_and_query(stats, query)
+    """Raise the errors of statistics, a query and an atom, and return the networks of all tables."""
+    networks = check_notes_and_query(stats, query)
     _need_atom(query, index)
+    return networks
 
 
-def _agreeing_tables(stats, query, index, block):
+def _agreeing_tables(networks, query, index, block):
     """Return the counts of all agreeing tables of an atom, if there are not too many combinations."""
     _need_block(block)
     tables = used_tables(query)
-    choices = table_choices(stats, tables, MOST_LISTED)
+    choices = table_choices(networks, tables, MOST_LISTED)
     return choices[tables.index(query.atoms[index][0])]
 
 
@@ -210,8 +212,8 @@ def _numbers_read(room, schema, counts, block):
     return numbers
 
 
-def _numbers_of_all(stats, query, index, block):
+def _numbers_of_all(networks, query, index, block):
     """Return a list of pairs: the counts of an agreeing table of an atom, and the numbers of blocks to be read."""
-    tables = _agreeing_tables(stats, query, index, block)
+    tables = _agreeing_tables(networks, query, index, block)
     room = Room(query, index)
-    return [(counts, _numbers_read(room, stats.schema, counts, block)) for counts in tables]
+    return [(counts, _numbers_read(room, query.schema, counts, block)) for counts in tables]

@@ -1,11 +1,14 @@
 """Choices between plans over all data that agree with statistics: ends of costs, surely best plans, least regrets."""
 
+from surelyplan.costing import Cases
 from surelyplan.errors import BadIndex, TooLarge
-from surelyplan.notes import all_quantities, value_on
-from surelyplan.plain import all_tuples, is_between, is_integer
-from surelyplan.plans import all_plans, copy_plan, cost, cost_by_steps, is_plan, least_cost, need_plan, steps_of
-from surelyplan.schemas import need_table
-from surelyplan.sizes import check_notes_and_query, data_with, some_counts, table_choices, used_tables
+from surelyplan.networks import first_counts
+from surelyplan.notes import all_quantities, cells_about
+from surelyplan.plain import is_between, is_integer
+from surelyplan.plans import all_plans, copy_plan, cost, is_plan, least_cost, need_plan
+from surelyplan.queries import used_tables
+from surelyplan.schemas import Data, need_table
+from surelyplan.sizes import check_notes_and_query, table_choices
 from surelyplan.statistics import agree
 
 MOST_ATOMS = 3
@@ -41,9 +44,9 @@ class Surely:
 
     def shows(self, stats, query):
         """Return whether the plan is one for the query, and has no regret on any agreeing data."""
-        _check_choice(stats, query)
+        choice = Choice(stats, query)
         plan = copy_plan(self.plan)
-        return is_plan(query, plan) and _greatest_regret(_all_cases(stats, query), _name(plan)) == 0
+        return is_plan(query, plan) and choice.greatest_regret(plan) == 0
 
 
 class Torn:
@@ -57,8 +60,7 @@ class Torn:
 
     def shows(self, stats, query):
         """Return whether each plan has a regret on its data, and all of them agree with the notes."""
-        _check_choice(stats, query)
-        return _have_regrets(stats, query, self.against, 1)
+        return Choice(stats, query).have_regrets(self.against, 1)
 
 
 class Calmest:
@@ -76,21 +78,87 @@ class Calmest:
 
     def shows(self, stats, query):
         """Return whether the number is the greatest regret of the plan, and each plan has one as great on its data."""
-        _check_choice(stats, query)
+        choice = Choice(stats, query)
         plan = copy_plan(self.plan)
         if not is_plan(query, plan) or not is_integer(self.number):
             return False
-        if _greatest_regret(_all_cases(stats, query), _name(plan)) != self.number:
+        return choice.greatest_regret(plan) == self.number and choice.have_regrets(self.worst, self.number)
+
+
+class Choice:
+    """What notes leave open for a query: its plans, the combinations of agreeing tables, and data with these."""
+
+    def __init__(self, stats, query):
+        networks = check_notes_and_query(stats, query)
+        if len(query) > MOST_ATOMS:
+            raise TooLarge("more than three atoms")
+        self.stats = stats
+        self.networks = networks
+        self.cases = Cases(query, table_choices(networks, used_tables(query), MOST_COMBINATIONS))
+        self.plans = all_plans(query)
+        self.found_data = {}
+
+    def data_on(self, chosen):
+        """Return agreeing data with the tables of a combination."""
+        if chosen not in self.found_data:
+            tables = [self._counts_on(table, chosen) for table in range(len(self.stats.schema))]
+            self.found_data[chosen] = Data(self.stats.schema, tables)
+        return self.found_data[chosen]
+
+    def greatest_regret(self, plan):
+        """Return the greatest regret of a plan on any agreeing data."""
+        place = self.plans.index(plan)
+        return max([self.cases.regrets(chosen)[place] for chosen in self.cases.combinations])
+
+    def worst_cases(self):
+        """Return the list of pairs of the greatest regret of each plan, and the first combination with it."""
+        combinations = self.cases.combinations
+        every = [self.cases.regrets(chosen) for chosen in combinations]
+        worst = []
+        for place in range(len(self.plans)):
+            regrets = [row[place] for row in every]
+            most = max(regrets)
+            worst.append((most, combinations[regrets.index(most)]))
+        return worst
+
+    def have_regrets(self, told, least):
+        """Return whether a dict leads from the names of all plans to agreeing data with at least such regrets."""
+        names = [_name(plan) for plan in self.plans]
+        if len(told) != len(names) or not all([name in told for name in names]):
             return False
-        return _have_regrets(stats, query, self.worst, self.number)
+        if not all([is_integer(index) for name in told for index in name[0]]):
+            return False
+        if not _all_agree(self.stats, list(told.values())):
+            return False
+        places = [self._combination_of(told[name]) for name in names]
+        return all([self.cases.regrets(chosen)[at] >= least for at, chosen in enumerate(places)])
 
+    def regret_left(self, table, quantities):
+        """Return the list of the regrets that are left if one of some quantities of a table is known."""
+        if table not in self.cases.spots:
+            return [min([most for most, chosen in self.worst_cases()]) for quantity in quantities]
+        choices = self.cases.choices[self.cases.spots[table]]
+        regrets = self._regrets_by_table(table)
+        about = [cells_about(self.stats.schema, table, quantity) for quantity in quantities]
+        values = [[sum([counts[place] for place in places]) for counts in choices] for places in about]
+        return [_regret_with(regrets, told) for told in values]
 
-class Case:
-    """Agreeing data, and a dict from the names of all plans to their regrets on these data."""
+    def _counts_on(self, table, chosen):
+        if table in self.cases.spots:
+            return self.cases.chosen_counts(table, chosen)
+        return first_counts(self.networks[table])
 
-    def __init__(self, data, regrets):
-        self.data = data
-        self.regrets = regrets
+    def _combination_of(self, data):
+        choices = self.cases.choices
+        return tuple([choices[spot].index(data.tables[table]) for table, spot in self.cases.spots.items()])
+
+    def _regrets_by_table(self, table):
+        """Return a list with the list of the greatest regrets of all plans for each agreeing table."""
+        spot = self.cases.spots[table]
+        regrets = [[] for _ in self.cases.choices[spot]]
+        for chosen in self.cases.combinations:
+            regrets[chosen[spot]] = _greater(regrets[chosen[spot]], self.cases.regrets(chosen))
+        return regrets
 
 
 def regret(query, plan, data):
@@ -100,136 +168,96 @@ def regret(query, plan, data):
 
 def cost_ends(stats, query, plan):
     """Return the pair of the smallest and the greatest cost of a plan over all agreeing data."""
-    reached = reach_costs(stats, query, plan)
-    return cost(query, plan, reached.least), cost(query, plan, reached.greatest)
+    costs = _costs_of(Choice(stats, query), query, plan)
+    return min(costs), max(costs)
 
 
 def reach_costs(stats, query, plan):
     """Return a `CostEnds`."""
-    _check_choice(stats, query)
-    need_plan(query, plan)
-    every = _all_data(stats, query)
-    costs = [cost(query, plan, data) for data in every]
-    return CostEnds(every[costs.index(min(costs))], every[costs.index(max(costs))])
+    choice = Choice(stats, query)
+    costs = _costs_of(choice, query, plan)
+    ends = [choice.cases.combinations[costs.index(end)] for end in (min(costs), max(costs))]
+    return CostEnds(choice.data_on(ends[0]), choice.data_on(ends[1]))
 
 
 def judge_plans(stats, query):
     """Return a `Surely`, or a `Torn` if no plan is cheapest on all agreeing data."""
-    _check_choice(stats, query)
-    cases = _all_cases(stats, query)
-    against = {}
-    for plan in all_plans(query):
-        worst = _worst_case(cases, _name(plan))
-        if worst.regrets[_name(plan)] == 0:
+    choice = Choice(stats, query)
+    worst = choice.worst_cases()
+    for plan, (most, _) in zip(choice.plans, worst):
+        if most == 0:
             return Surely(plan)
-        against[_name(plan)] = worst.data
-    return Torn(against)
+    return Torn({_name(plan): choice.data_on(chosen) for plan, (most, chosen) in zip(choice.plans, worst)})
 
 
 def find_calmest(stats, query):
     """Return a `Calmest`."""
-    _check_choice(stats, query)
-    cases = _all_cases(stats, query)
-    plans = all_plans(query)
-    greatest = [_greatest_regret(cases, _name(plan)) for plan in plans]
+    choice = Choice(stats, query)
+    worst = choice.worst_cases()
+    greatest = [most for most, chosen in worst]
     number = min(greatest)
-    worst = {_name(plan): _worst_case(cases, _name(plan)).data for plan in plans}
-    return Calmest(plans[greatest.index(number)], number, worst)
+    told = {_name(plan): choice.data_on(chosen) for plan, (most, chosen) in zip(choice.plans, worst)}
+    return Calmest(choice.plans[greatest.index(number)], number, told)
 
 
 def least_regret(stats, query):
     """Return the smallest greatest regret of a plan."""
-    _check_choice(stats, query)
-    return _least_regret(_all_cases(stats, query))
+    return min([most for most, chosen in Choice(stats, query).worst_cases()])
 
 
 def regret_after(stats, query, table, index):
     """Return the regret that is left if a quantity of a table is known."""
-    _check_choice(stats, query)
+    choice = Choice(stats, query)
     need_table(stats.schema, table)
     quantities = all_quantities(stats.schema, table)
     if not is_between(index, 0, len(quantities) - 1):
         raise BadIndex("there is no quantity with this index")
-    return _regret_left(_all_cases(stats, query), table, quantities[index])
+    return choice.regret_left(table, [quantities[index]])[0]
 
 
 def best_questions(stats, query):
     """Return the ascending list of pairs of a table and the index of a quantity that leave the least regret."""
-    _check_choice(stats, query)
-    cases = _all_cases(stats, query)
+    choice = Choice(stats, query)
     left = {}
     for table in used_tables(query):
-        for index, quantity in enumerate(all_quantities(stats.schema, table)):
-            left[(table, index)] = _regret_left(cases, table, quantity)
+        for index, number in enumerate(choice.regret_left(table, all_quantities(stats.schema, table))):
+            left[(table, index)] = number
     least = min(left.values())
     return [question for question in left if left[question] == least]
 
 
-def _check_choice(stats, query):
-    check_notes_and_query(stats, query)
-    if len(query) > MOST_ATOMS:
-        raise TooLarge("more than three atoms")
-    table_choices(stats, used_tables(query), MOST_COMBINATIONS)
-
-
-def _all_data(stats, query):
-    """Return the list of data with each combination of agreeing tables of the query."""
-    choices = table_choices(stats, used_tables(query), MOST_COMBINATIONS)
-    counts = some_counts(stats)
-    return [data_with(query, counts, chosen) for chosen in all_tuples(choices)]
-
-
-def _all_cases(stats, query):
-    plans = all_plans(query)
-    return [_case_of(query, plans, data) for data in _all_data(stats, query)]
-
-
-def _case_of(query, plans, data):
-    steps = steps_of(query, data)
-    costs = {_name(plan): cost_by_steps(steps, plan) for plan in plans}
-    least = min(costs.values())
-    return Case(data, {name: costs[name] - least for name in costs})
+def _costs_of(choice, query, plan):
+    """Return the list of the costs of a plan on all combinations of agreeing tables."""
+    need_plan(query, plan)
+    return [choice.cases.plan_cost(plan, chosen) for chosen in choice.cases.combinations]
 
 
 def _name(plan):
     return plan.order, plan.ways
 
 
-def _greatest_regret(cases, name):
-    return max([case.regrets[name] for case in cases])
-
-
-def _worst_case(cases, name):
-    """Return the first case in which the regret of a plan is greatest."""
-    regrets = [case.regrets[name] for case in cases]
-    return cases[regrets.index(max(regrets))]
-
-
-def _least_regret(cases):
-    return min([_greatest_regret(cases, name) for name in cases[0].regrets])
-
-
-def _regret_left(cases, table, quantity):
-    """Return the greatest one of the least regrets over the cases with the same value of a quantity."""
-    groups = {}
-    for case in cases:
-        value = value_on(case.data.schema, table, quantity, case.data.tables[table])
-        groups.setdefault(value, []).append(case)
-    return max([_least_regret(group) for group in groups.values()])
-
-
 def _agree(stats, data):
     return data.schema == stats.schema and agree(stats, data)
 
 
-def _have_regrets(stats, query, told, least):
-    """Return whether a dict leads from the names of all plans to agreeing data with at least such regrets."""
-    plans = all_plans(query)
-    names = [_name(plan) for plan in plans]
-    if len(told) != len(names) or not all([name in told for name in names]):
+def _all_agree(stats, every):
+    """Return whether all of some data agree with notes; the same tables are looked at once."""
+    if not all([data.schema == stats.schema for data in every]):
         return False
-    if not all([is_integer(index) for name in told for index in name[0]]):
-        return False
-    if not all([_agree(stats, data) for data in told.values()]):
-        return False
-    return all([_case_of(query, plans, told[name]).regrets[name] >= least for name in names])
+    different = {data.tables: data for data in every}
+    return all([agree(stats, data) for data in different.values()])
+
+
+def _greater(one, other):
+    """Return the list of the greater items of two lists, or the other one if the first one is still empty."""
+    if one == []:
+        return other
+    return [max(first, second) for first, second in zip(one, other)]
+
+
+def _regret_with(regrets, values):
+    """Return the greatest one of the least regrets over the tables in which a quantity has the same value."""
+    groups = {}
+    for told, value in zip(regrets, values):
+        groups[value] = _greater(groups.get(value, []), told)
+    return max([min(told) for told in groups.values()])

@@ -3,8 +3,8 @@
 from surelyplan.errors import BadMachines, NotPossible
 from surelyplan.notes import ROWS
 from surelyplan.plain import are_between, index_groups, is_ascending, is_between, is_group, is_integer, is_sequence
-from surelyplan.queries import check_query_and_data, need_query
-from surelyplan.sizes import check_notes_and_query, used_tables
+from surelyplan.queries import check_query_and_data, need_query, used_tables
+from surelyplan.sizes import check_notes_and_query
 from surelyplan.weighing import quantity_ends
 
 MOST_MACHINES = 4

@@ -1,7 +1,5 @@
 """The rows of some atoms of a query, joined atom by atom."""
 
-from surelyplan.plain import index_groups
-
 
 class Joined:
     """The variables of some atoms, in an order, and a dict from values of these to the counts above 0 of rows."""
@@ -25,24 +23,35 @@ def no_atoms():
     return Joined((), {(): 1})
 
 
-def atom_rows(query, data, index):
-    """Return the rows of one atom: those that the filters keep, with equal values for equal variables."""
+def fitting_cells(query, index):
+    """Return the list of pairs of a place and a cell: those of the table of an atom whose rows are rows of the atom.
+
+    These are the cells that the filters keep, with equal values for equal variables.
+    """
     table, variables = query.atoms[index]
+    allowed = [query.allowed(variable) for variable in variables]
+    return [
+        (place, cell) for place, cell in enumerate(query.schema.cells(table))
+        if all([value in some for value, some in zip(cell, allowed)]) and _fits(variables, cell)
+    ]
+
+
+def rows_with(variables, fitting, counts):
+    """Return the rows of an atom with some variables and fitting cells, from the counts of its table."""
     bound = tuple([variable for place, variable in enumerate(variables) if variable not in variables[:place]])
-    counts = {}
-    for cell, count in atom_cells(query, data, index):
-        counts[cell[:len(bound)]] = count
-    return Joined(bound, counts)
+    return Joined(bound, {cell[:len(bound)]: counts[place] for place, cell in fitting if counts[place] > 0})
+
+
+def atom_rows(query, data, index):
+    """Return the rows of one atom."""
+    table, variables = query.atoms[index]
+    return rows_with(variables, fitting_cells(query, index), data.tables[table])
 
 
 def atom_cells(query, data, index):
     """Return the ascending list of pairs of a cell and its count, of the rows of one atom."""
-    table, variables = query.atoms[index]
-    allowed = [query.allowed(variable) for variable in variables]
-    return [
-        (cell, count) for cell, count in data.filled(table)
-        if all([value in some for value, some in zip(cell, allowed)]) and _fits(variables, cell)
-    ]
+    counts = data.tables[query.atoms[index][0]]
+    return [(cell, counts[place]) for place, cell in fitting_cells(query, index) if counts[place] > 0]
 
 
 def join_rows(one, other):
@@ -66,15 +75,6 @@ def joined_rows(query, data, indices):
     rows = no_atoms()
     for index in indices:
         rows = join_rows(rows, atom_rows(query, data, index))
-    return rows
-
-
-def group_rows(query, data):
-    """Return a dict from all ascending tuples of atoms to their rows; a tuple stands behind its parts."""
-    single = [atom_rows(query, data, index) for index in range(len(query))]
-    rows = {}
-    for group in index_groups(len(query)):
-        rows[group] = no_atoms() if group == () else join_rows(rows[group[:-1]], single[group[-1]])
     return rows
 
 

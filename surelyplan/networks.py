@@ -7,7 +7,8 @@ there is no flow within the bounds; if no bounds cross and no slack is below 0, 
 and tables can be built cell by cell without ever coming to a dead end.
 """
 
-from surelyplan.notes import ROWS, bounds_of
+from surelyplan.notes import ROWS, bounds_of, cells_about, note_parts
+from surelyplan.schemas import MOST_COUNT
 
 TOP = ("top", 0)
 END = ("end", 0)
@@ -34,70 +35,102 @@ def edge_list(schema, table):
     return inner + firsts + seconds + [back]
 
 
-class Network:
-    """The edges of a table with the bounds that notes set, and the sets of nodes that they lead from and to.
+class Shape:
+    """The edges of tables with a number of columns, and the sets of nodes that they lead from and to.
 
-    Nodes are numbered; a set of nodes is the integer whose bits with the numbers of its nodes are set.
-    Edges are quadruples of two nodes and two bounds.
+    Nodes are numbered; a set of nodes is the integer whose bits with the numbers of its nodes are set. `edge_at` leads
+    from the cells about which an edge is, by their indices, to its number.
     """
 
-    def __init__(self, stats, table):
-        self.nodes = node_list(stats.schema, table)
-        self.width = len(stats.schema.cells(table))
-        self.edges = []
-        for quantity, start, end in edge_list(stats.schema, table):
-            low, high = bounds_of(stats, table, quantity)
-            self.edges.append((self.nodes.index(start), self.nodes.index(end), low, high))
-        self.leaving = [_sets_with(len(self.nodes), edge[0], edge[1]) for edge in self.edges]
-        self.entering = [_sets_with(len(self.nodes), edge[1], edge[0]) for edge in self.edges]
+    def __init__(self, schema, table):
+        edges = edge_list(schema, table)
+        self.nodes = node_list(schema, table)
+        self.width = len(schema.cells(table))
+        self.ends = [(self.nodes.index(start), self.nodes.index(end)) for quantity, start, end in edges]
+        self.leaving = [_sets_with(len(self.nodes), start, end) for start, end in self.ends]
+        self.entering = [_sets_with(len(self.nodes), end, start) for start, end in self.ends]
+        about = [tuple(cells_about(schema, table, quantity)) for quantity, start, end in edges]
+        self.edge_at = {cells: at for at, cells in enumerate(about)}
+
+
+class Network:
+    """The edges of a table with the bounds that notes set; `is_free` tells that there are no notes about it."""
+
+    def __init__(self, stats, table, shape):
+        self.shape = shape
+        self.lows = [0] * len(shape.ends)
+        self.highs = [0] * len(shape.ends)
+        for cells, at in shape.edge_at.items():
+            self.highs[at] = MOST_COUNT * len(cells)
+        notes = [note_parts(note) for note in stats.notes if note[1] == table]
+        self.is_free = notes == []
+        self.found_slacks = []
+        for _, quantity, low, high in notes:
+            at = shape.edge_at[tuple(cells_about(stats.schema, table, quantity))]
+            self.lows[at] = max(self.lows[at], low)
+            self.highs[at] = min(self.highs[at], high)
 
     def slacks(self):
         """Return the list of the slacks of all sets of nodes."""
-        slacks = [0] * (1 << len(self.nodes))
-        for at, edge in enumerate(self.edges):
-            for group in self.leaving[at]:
-                slacks[group] += edge[3]
-            for group in self.entering[at]:
-                slacks[group] -= edge[2]
-        return slacks
+        if self.found_slacks == []:
+            slacks = [0] * (1 << len(self.shape.nodes))
+            for at, (low, high) in enumerate(zip(self.lows, self.highs)):
+                _add(slacks, self.shape.leaving[at], high)
+                _add(slacks, self.shape.entering[at], -low)
+            self.found_slacks = slacks
+        return self.found_slacks
 
-    def is_open(self, slacks):
+    def is_open(self):
         """Return whether there is a flow within the bounds."""
-        return all([edge[2] <= edge[3] for edge in self.edges]) and min(slacks) >= 0
+        if self.is_free:
+            return True
+        return all([low <= high for low, high in zip(self.lows, self.highs)]) and min(self.slacks()) >= 0
 
     def flow_ends(self, slacks, at):
         """Return the pair of the least and the greatest flow of an edge, if there is a flow at all."""
-        low, high = self.edges[at][2:]
-        least = high - min([slacks[group] for group in self.leaving[at]])
-        greatest = low + min([slacks[group] for group in self.entering[at]])
+        low, high = self.lows[at], self.highs[at]
+        least = high - min([slacks[group] for group in self.shape.leaving[at]])
+        greatest = low + min([slacks[group] for group in self.shape.entering[at]])
         return max(low, least), min(high, greatest)
 
     def slacks_with(self, slacks, at, flow):
         """Return the slacks if both bounds of an edge become a flow that is possible for it."""
-        low, high = self.edges[at][2:]
         slacks = list(slacks)
-        for group in self.leaving[at]:
-            slacks[group] -= high - flow
-        for group in self.entering[at]:
-            slacks[group] -= flow - low
+        _add(slacks, self.shape.leaving[at], flow - self.highs[at])
+        _add(slacks, self.shape.entering[at], self.lows[at] - flow)
         return slacks
+
+
+def network_of(stats, table):
+    """Return the network of a table."""
+    return Network(stats, table, Shape(stats.schema, table))
+
+
+def all_networks(stats):
+    """Return the list of the networks of all tables; those with the same number of columns share their shape."""
+    widths = stats.schema.widths
+    shapes = {width: Shape(stats.schema, widths.index(width)) for width in sorted(set(widths))}
+    return [Network(stats, table, shapes[width]) for table, width in enumerate(widths)]
 
 
 def list_counts(network, most):
     """Return the ascending list of the counts of agreeing tables, or the first ones, at least one more than `most`."""
-    slacks = network.slacks()
     found = []
-    if network.is_open(slacks):
-        _collect(network, slacks, (), most, found)
+    if network.is_open():
+        _collect(network, network.slacks(), (), most, found)
     return found
+
+
+def first_counts(network):
+    """Return the smallest counts of an agreeing table, if there is one."""
+    return (0,) * network.shape.width if network.is_free else list_counts(network, 0)[0]
 
 
 def narrow_nodes(network):
     """Return the list of nodes with a slack below 0, or None if there are none."""
-    slacks = network.slacks()
-    for group, slack in enumerate(slacks):
+    for group, slack in enumerate(network.slacks()):
         if slack < 0:
-            return [node for place, node in enumerate(network.nodes) if group >> place & 1]
+            return [node for place, node in enumerate(network.shape.nodes) if group >> place & 1]
     return None
 
 
@@ -114,15 +147,27 @@ def excess_of(stats, table, nodes):
 
 
 def _sets_with(many, inside, outside):
-    return [group for group in range(1 << many) if group >> inside & 1 and not group >> outside & 1]
+    """Return the list of all sets of so many nodes that have one node and have another one not."""
+    groups = [1 << inside]
+    for node in range(many):
+        if node not in (inside, outside):
+            groups = groups + [group + (1 << node) for group in groups]
+    return groups
+
+
+def _add(slacks, groups, more):
+    if more != 0:
+        for group in groups:
+            slacks[group] += more
 
 
 def _collect(network, slacks, counts, most, found):
     at = len(counts)
-    if at == network.width:
-        found.append(counts)
-        return
     least, greatest = network.flow_ends(slacks, at)
+    if at == network.shape.width - 1:
+        # Whatever is possible for the last cell makes a whole table.
+        found.extend([counts + (count,) for count in range(least, greatest + 1)])
+        return
     for count in range(least, greatest + 1):
         if len(found) <= most:
             _collect(network, network.slacks_with(slacks, at, count), counts + (count,), most, found)

@@ -1,7 +1,7 @@
 """Quantities of tables, notes about them, and the bounds that notes set."""
 
 from surelyplan.plain import is_between
-from surelyplan.schemas import MOST_COUNT, is_cell
+from surelyplan.schemas import MOST_COUNT, cell_place, is_cell
 
 ROWS = ("rows",)
 
@@ -44,12 +44,16 @@ def note_parts(note):
 
 def cells_about(schema, table, quantity):
     """Return the list of the indices of the cells whose rows a quantity counts."""
-    cells = schema.cells(table)
-    if quantity == ROWS:
-        return list(range(len(cells)))
     if quantity[0] == "cell":
-        return [cells.index(quantity[1])]
-    return [place for place, cell in enumerate(cells) if cell[quantity[1]] == quantity[2]]
+        return [cell_place(schema.size, quantity[1])]
+    many = schema.size ** 2 if schema.widths[table] == 2 else schema.size
+    if quantity == ROWS:
+        return list(range(many))
+    # The cells with a value in the first column lie side by side, those with one in the last column far apart.
+    column, value = quantity[1:]
+    if column == schema.widths[table] - 1:
+        return list(range(value, many, schema.size))
+    return list(range(value * schema.size, (value + 1) * schema.size))
 
 
 def value_on(schema, table, quantity, counts):

@@ -2,12 +2,11 @@
 
 from itertools import permutations
 
+from surelyplan.costing import Cases, possible_ways, rows_read, with_index
 from surelyplan.errors import BadPlan
-from surelyplan.joining import atom_rows, group_rows, join_rows, no_atoms
+from surelyplan.joining import atom_rows, join_rows, no_atoms
 from surelyplan.plain import all_tuples, index_groups, is_group, is_integer
-from surelyplan.queries import check_query_and_data, is_order, need_query
-
-SIDES = ("left", "right")
+from surelyplan.queries import check_query_and_data, is_order, need_query, used_tables
 
 
 class Plan:
@@ -40,7 +39,7 @@ class Cheapest:
         steps = steps_of(query, data)
         for before, index in steps:
             most = self.floors[before] + min(steps[(before, index)].values())
-            if self.floors[_with_index(before, index)] > most:
+            if self.floors[with_index(before, index)] > most:
                 return False
         return self.floors[()] == 0 and self.floors[tuple(range(len(query)))] == cost_by_steps(steps, plan)
 
@@ -73,7 +72,8 @@ def step_costs(query, plan, data):
     costs = []
     for index, way in zip(plan.order, plan.ways):
         longer = join_rows(rows, atom_rows(query, data, index))
-        costs.append((_rows_read(query, data, rows, index, way), longer.many))
+        counts = data.tables[query.atoms[index][0]]
+        costs.append((rows_read(query, counts, rows, index, way), longer.many))
         rows = longer
     return costs
 
@@ -110,18 +110,9 @@ def need_plan(query, plan):
 
 
 def steps_of(query, data):
-    """Return a dict from pairs of ascending atoms, and an atom that follows them, to the costs of its ways."""
-    rows = group_rows(query, data)
-    steps = {}
-    for before in rows:
-        for index in range(len(query)):
-            if index not in before:
-                made = rows[_with_index(before, index)].many
-                ways = _possible_ways(query, before, index)
-                steps[(before, index)] = {
-                    way: made + _rows_read(query, data, rows[before], index, way) for way in ways
-                }
-    return steps
+    """Return a dict from all steps, pairs of ascending atoms and one that follows them, to the costs of their ways."""
+    cases = Cases(query, [[data.tables[table]] for table in used_tables(query)])
+    return {step: cases.step_costs(step, cases.combinations[0]) for step in cases.ways}
 
 
 def cost_by_steps(steps, plan):
@@ -133,32 +124,7 @@ def cost_by_steps(steps, plan):
 
 
 def _ways_of_step(query, order, step):
-    return _possible_ways(query, order[:step], order[step])
-
-
-def _possible_ways(query, before, index):
-    """Return the ascending list of the ways of an atom that follows others."""
-    if before == ():
-        return ["scan"]
-    known = [variable for other in before for variable in query.atoms[other][1]]
-    sides = [side for side, variable in zip(SIDES, query.atoms[index][1]) if variable in known]
-    return ["gather"] + sides + ["scan"]
-
-
-def _rows_read(query, data, before, index, way):
-    """Return the number of rows that an atom reads if it follows the rows before it."""
-    table, variables = query.atoms[index]
-    if way == "scan":
-        return before.many * data.rows(table)
-    if way == "gather":
-        return before.many + data.rows(table)
-    column = SIDES.index(way)
-    sums = before.sums_of(variables[column])
-    return sum([sums[value] * data.with_value(table, column, value) for value in sums])
-
-
-def _with_index(group, index):
-    return tuple(sorted(group + (index,)))
+    return possible_ways(query, order[:step], order[step])
 
 
 def _are_floors(query, floors):

@@ -87,6 +87,11 @@ def part_of(query, indices):
     return Query(query.schema, renamed, filters, shown)
 
 
+def used_tables(query):
+    """Return the ascending list of the tables of the atoms of a query."""
+    return sorted({atom[0] for atom in query.atoms})
+
+
 def count_variables(atoms):
     """Return the number of variables from 0 to the greatest one of some atoms."""
     return 1 + max([max(atom[1]) for atom in atoms])

@@ -1,7 +1,7 @@
 """Questions for the values of quantities, and as few of them as possible until one table is left."""
 
 from surelyplan.errors import BadQuantity, TooLarge
-from surelyplan.networks import Network, list_counts
+from surelyplan.networks import list_counts, network_of
 from surelyplan.notes import all_quantities, cells_about, is_quantity
 from surelyplan.plain import is_integer
 from surelyplan.schemas import need_table
@@ -131,7 +131,7 @@ def fewest_questions(stats, table):
 def _search_for(stats, table):
     need_statistics(stats)
     need_table(stats.schema, table)
-    tables = list_counts(Network(stats, table), MOST_ASKED)
+    tables = list_counts(network_of(stats, table), MOST_ASKED)
     if len(tables) > MOST_ASKED:
         raise TooLarge("more than 60 tables agree")
     return Search(stats, table, tables)

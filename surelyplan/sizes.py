@@ -1,11 +1,12 @@
 """Sizes of answers over all data that agree with statistics, and covers that bound them."""
 
 from surelyplan.errors import TooLarge
+from surelyplan.networks import first_counts, list_counts
 from surelyplan.notes import ROWS
 from surelyplan.plain import all_tuples, are_between, index_groups, is_ascending
-from surelyplan.queries import answer_size, need_query, need_same_schema
+from surelyplan.queries import answer_size, need_query, need_same_schema, used_tables
 from surelyplan.schemas import Data, cell_place
-from surelyplan.statistics import MOST_LISTED, agree, all_tables, first_counts, need_agreeing, need_statistics
+from surelyplan.statistics import MOST_LISTED, agree, need_agreeing, need_statistics
 from surelyplan.weighing import quantity_ends
 
 
@@ -51,14 +52,15 @@ class Covered:
 
 def size_ends(stats, query):
     """Return the pair of the smallest and the greatest size of the answer."""
-    least, greatest = _sizes_and_counts(stats, query)
+    least, greatest = _sizes_and_counts(check_notes_and_query(stats, query), query)
     return least[0], greatest[0]
 
 
 def reach_sizes(stats, query):
     """Return a `SizeEnds`: agreeing data with the smallest and with the greatest size of the answer."""
-    least, greatest = _sizes_and_counts(stats, query)
-    counts = some_counts(stats)
+    networks = check_notes_and_query(stats, query)
+    least, greatest = _sizes_and_counts(networks, query)
+    counts = some_counts(networks)
     return SizeEnds(data_with(query, counts, least[1]), data_with(query, counts, greatest[1]))
 
 
@@ -75,35 +77,36 @@ def cover_bound(stats, query):
     return _bound(factors, _best_cover(query, factors))
 
 
-def used_tables(query):
-    """Return the ascending list of the tables of the atoms of a query."""
-    return sorted({atom[0] for atom in query.atoms})
-
-
 def check_notes_and_query(stats, query):
-    """Raise an error unless arguments are statistics with agreeing data, and a query with the same schema."""
+    """Raise an error unless arguments are statistics with agreeing data, and a query with the same schema.
+
+    Return the list of the networks of all tables.
+    """
     need_statistics(stats)
     need_query(query)
     need_same_schema(stats, query)
-    need_agreeing(stats)
+    return need_agreeing(stats)
 
 
-def _sizes_and_counts(stats, query):
+def _sizes_and_counts(networks, query):
     """Return the smallest and the greatest size, each one with the counts of the used tables that lead to it."""
-    check_notes_and_query(stats, query)
     tables = used_tables(query)
-    choices = table_choices(stats, tables, MOST_LISTED)
+    choices = table_choices(networks, tables, MOST_LISTED)
     return _reach(_terms(query, tables), choices)
 
 
-def table_choices(stats, tables, most):
-    """Return the lists of the agreeing counts of some tables, of which there are at most so many combinations."""
-    choices = [all_tables(stats, table) for table in tables]
-    many = 1
-    for choice in choices:
-        many *= len(choice)
-    if many > most:
-        raise TooLarge("too many combinations of tables")
+def table_choices(networks, tables, most):
+    """Return the lists of the agreeing counts of some tables, of which there are at most so many combinations.
+
+    No more tables are listed than are needed to know that there are too many combinations.
+    """
+    choices = []
+    for table in tables:
+        choice = list_counts(networks[table], most)
+        if len(choice) > most:
+            raise TooLarge("too many combinations of tables")
+        most = most // len(choice)
+        choices.append(choice)
     return choices
 
 
@@ -152,9 +155,9 @@ def _put_in(terms, counts):
     return rest
 
 
-def some_counts(stats):
+def some_counts(networks):
     """Return a list with the counts of an agreeing table for each table."""
-    return [first_counts(stats, table) for table in range(len(stats.schema))]
+    return [first_counts(network) for network in networks]
 
 
 def data_with(query, counts, chosen):

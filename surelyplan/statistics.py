@@ -1,7 +1,7 @@
 """Statistics: notes about data, and the tables that agree with them."""
 
 from surelyplan.errors import BadNotes, BadSchema, Disagrees, TooLarge
-from surelyplan.networks import Network, excess_of, list_counts, narrow_nodes, node_list
+from surelyplan.networks import all_networks, excess_of, list_counts, narrow_nodes, network_of, node_list
 from surelyplan.notes import agrees_with, all_quantities, bounds_cross, is_note, is_quantity
 from surelyplan.plain import are_between, is_group, is_integer, is_sequence
 from surelyplan.queries import need_same_schema
@@ -91,10 +91,12 @@ def need_statistics(stats):
 
 
 def need_agreeing(stats):
-    """Raise an error if no data agree with statistics."""
-    for table in range(len(stats.schema)):
-        if first_counts(stats, table) is None:
+    """Raise an error if no data agree with statistics; return the list of the networks of all tables."""
+    networks = all_networks(stats)
+    for table, network in enumerate(networks):
+        if not network.is_open():
             raise Disagrees(table)
+    return networks
 
 
 def is_node(schema, table, node):
@@ -109,12 +111,6 @@ def table_agrees(stats, table, counts):
     return all([agrees_with(stats.schema, note, counts) for note in stats.notes if note[1] == table])
 
 
-def first_counts(stats, table):
-    """Return the smallest counts of a table that agrees with the notes, or None."""
-    found = list_counts(Network(stats, table), 0)
-    return found[0] if found else None
-
-
 def judge_table(stats, table):
     """Return an `Agrees`, or the reason why no table agrees with the notes."""
     need_statistics(stats)
@@ -122,7 +118,7 @@ def judge_table(stats, table):
     for quantity in all_quantities(stats.schema, table):
         if bounds_cross(stats, table, quantity):
             return Crossed(quantity)
-    network = Network(stats, table)
+    network = network_of(stats, table)
     nodes = narrow_nodes(network)
     if nodes is not None:
         return Against(nodes)
@@ -132,7 +128,7 @@ def judge_table(stats, table):
 def has_tables(stats):
     """Return whether some data agree with statistics."""
     need_statistics(stats)
-    return all([first_counts(stats, table) is not None for table in range(len(stats.schema))])
+    return all([network.is_open() for network in all_networks(stats)])
 
 
 def broken_notes(stats, data):
@@ -155,7 +151,7 @@ def all_tables(stats, table):
     """Return the ascending list of the counts of all tables that agree with the notes."""
     need_statistics(stats)
     need_table(stats.schema, table)
-    found = list_counts(Network(stats, table), MOST_LISTED)
+    found = list_counts(network_of(stats, table), MOST_LISTED)
     if len(found) > MOST_LISTED:
         raise TooLarge("more than 3000 tables agree")
     return found

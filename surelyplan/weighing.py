@@ -1,7 +1,7 @@
 """Weighted sums of tables, the ends of quantities, and what follows from notes."""
 
 from surelyplan.errors import BadQuantity, BadWeights
-from surelyplan.networks import Network, edge_list, list_counts, node_list
+from surelyplan.networks import edge_list, list_counts, network_of, node_list
 from surelyplan.notes import bounds_of, cells_about, is_note, is_quantity, note_parts, value_on
 from surelyplan.plain import are_between, is_group, is_integer
 from surelyplan.schemas import need_table
@@ -40,7 +40,7 @@ class Weighed:
 def weigh(stats, table, weights):
     """Return a `Weighed`: the tables with the smallest and the greatest weighted sum, with prices."""
     _check_weighing(stats, table, weights)
-    network = Network(stats, table)
+    network = network_of(stats, table)
     flows = _some_flows(stats, table, network)
     least, low = _cheapest(network, flows, list(weights))
     greatest, high = _cheapest(network, flows, _opposite(weights))
@@ -87,10 +87,9 @@ def needed_notes(stats):
 def quantity_ends(stats, table, quantity):
     """Return the pair of the smallest and the greatest value of a quantity of an agreeing table."""
     # The flow of one edge is the quantity: the edge that is about the same cells.
-    places = cells_about(stats.schema, table, quantity)
-    network = Network(stats, table)
-    told = [cells_about(stats.schema, table, edge[0]) for edge in edge_list(stats.schema, table)]
-    return network.flow_ends(network.slacks(), told.index(places))
+    network = network_of(stats, table)
+    at = network.shape.edge_at[tuple(cells_about(stats.schema, table, quantity))]
+    return network.flow_ends(network.slacks(), at)
 
 
 def _holds(stats, note):
@@ -142,22 +141,23 @@ def _some_flows(stats, table, network):
 
 def _cheapest(network, flows, costs):
     """Return the counts of a table with the smallest cost, and prices that show that it is."""
-    costs = costs + [0] * (len(network.edges) - len(costs))
+    nodes = network.shape.nodes
+    costs = costs + [0] * (len(network.lows) - len(costs))
     while True:
-        prices, ring = _search(_changes(network, flows, costs), len(network.nodes))
+        prices, ring = _search(_changes(network, flows, costs), len(nodes))
         if ring == []:
-            return flows[:network.width], {node: price for node, price in zip(network.nodes, prices)}
+            return flows[:network.shape.width], {node: price for node, price in zip(nodes, prices)}
         flows = _changed(flows, ring)
 
 
 def _changes(network, flows, costs):
     """Return how single flows can change: two nodes, the cost of a unit, the edge, and the greatest change."""
     changes = []
-    for at, (start, end, low, high) in enumerate(network.edges):
-        if flows[at] < high:
-            changes.append((start, end, costs[at], at, high - flows[at]))
-        if flows[at] > low:
-            changes.append((end, start, -costs[at], at, low - flows[at]))
+    for at, (start, end) in enumerate(network.shape.ends):
+        if flows[at] < network.highs[at]:
+            changes.append((start, end, costs[at], at, network.highs[at] - flows[at]))
+        if flows[at] > network.lows[at]:
+            changes.append((end, start, -costs[at], at, network.lows[at] - flows[at]))
     return changes
 
 

@@ -1,9 +1,13 @@
 """[14] Choices between plans over all agreeing data."""
 
+from unittest.mock import patch
+
 from surelyplan.choosing import Calmest, CostEnds, Surely, Torn
 from surelyplan.choosing import best_questions, cost_ends, find_calmest, judge_plans, least_regret, reach_costs
 from surelyplan.choosing import regret, regret_after
 from surelyplan.errors import BadData, BadIndex, BadNotes, BadPlan, BadQuery, BadTable, Disagrees, TooLarge, Unlike
+from surelyplan.joining import join_rows
+from surelyplan.networks import list_counts
 from surelyplan.plans import Plan, all_plans, cost, least_cost
 from surelyplan.queries import Query
 from surelyplan.schemas import Data, Schema
@@ -282,6 +286,90 @@ class Limits(Case):
         self.check_limit(Statistics(schema, notes + [("rows", 1, 0, 10)]), wide, 119)
         notes = [("cell", 1, cell, 0, most) for cell, most in zip(oracle.cells(schema, 1), (1, 6, 8, 0))]
         self.check_limit(Statistics(schema, notes + [("rows", 1, 0, 10)]), wide, 101)
+
+
+    def test_combinations_of_three_tables(self):
+        schema = Schema(2, (1, 2, 1))
+        query = Query(schema, ((0, (0,)), (1, (0, 1)), (2, (1,))), (), (1,))
+        # So many tables of two cells without a row in the second one, or with one table and 101 others.
+        few = {many: ((0, many - 1), (0, 0)) for many in range(1, 11)}
+        for sizes, wanted in (((10, 1, 10), 100), ((5, 5, 4), 100), ((1, 10, 10), 100), ((2, 5, 10), 100), ((10, 10, 1), 100), ((3, 7, 5), 105),
+                              ((2, 6, 9), 108), ((3, 4, 9), 108), ((10, 2, 6), 120), ((1, 10, 10), 100), ((6, 1, 10), 60)):
+            notes = []
+            for table, many in enumerate(sizes):
+                cells = oracle.cells(schema, table)
+                ends = list(few[many]) + [(1, 1)] * (len(cells) - 2)
+                notes += [("cell", table, cell, low, high) for cell, (low, high) in zip(cells, ends)]
+            self.check_limit(Statistics(schema, notes), query, wanted)
+
+    def test_one_of_several_tables_has_101(self):
+        # 101 tables of width 2, and one of each other table, whichever of them comes first.
+        for place in range(3):
+            widths = tuple(2 if table == place else 1 for table in range(3))
+            schema = Schema(2, widths)
+            query = Query(schema, tuple((table, tuple(range(table, table + width))) for table, width in enumerate(widths)), (), ())
+            notes = [("cell", place, cell, 0, most) for cell, most in zip(oracle.cells(schema, place), (1, 6, 8, 0))]
+            notes += [("rows", table, 0, 0) for table in range(3) if table != place]
+            self.check_limit(Statistics(schema, notes + [("rows", place, 0, 10)]), query, 101)
+            self.check_limit(Statistics(schema, notes + [("rows", place, 0, 10), ("cell", place, (0, 1), 0, 5)]), query, 92)
+
+    def test_a_hundred_combinations_are_right(self):
+        schema = Schema(2, (1, 2, 1))
+        query = Query(schema, ((0, (0,)), (1, (0, 1)), (2, (1,))), (), (1,))
+        stats = Statistics(schema, [("cell", 0, (0,), 0, 3), ("cell", 0, (1,), 1, 1), ("cell", 1, (0, 0), 0, 4), ("cell", 1, (0, 1), 1, 1),
+                                    ("value", 1, 0, 1, 0, 0), ("cell", 2, (0,), 0, 1), ("cell", 2, (1,), 0, 2), ("rows", 2, 1, 3)])
+        listing = Listing(stats, query)
+        self.assertEqual(100, len(listing.data))
+        told = judge_plans(stats, query)
+        self.assertIs(told.shows(stats, query), True)
+        worst = {name: max(listing.regrets(name)) for name in listing.names}
+        self.assertEqual(0 in worst.values(), isinstance(told, Surely))
+        calm = find_calmest(stats, query)
+        self.assertEqual((min(worst.values()), min(worst.values())), (calm.number, least_regret(stats, query)))
+        self.assertEqual(calm.number, worst[(calm.plan.order, calm.plan.ways)])
+        self.check_plans(stats, query, listing, calm)
+        left = {}
+        for table in range(3):
+            for index, quantity in enumerate(oracle.quantities(schema, table)):
+                left[(table, index)] = listing.left(table, quantity)
+                self.assertEqual(left[(table, index)], regret_after(stats, query, table, index))
+        self.assertEqual(sorted(question for question in left if left[question] == min(left.values())), best_questions(stats, query))
+
+    def check_plans(self, stats, query, listing, calm):
+        """The ends of the costs of some plans, and whether they are calmest, from all combinations."""
+        for name in listing.names[::7]:
+            costs = [every[name] for every in listing.costs]
+            plan = Plan(*name)
+            self.assertEqual((min(costs), max(costs)), cost_ends(stats, query, plan))
+            self.assertIs(reach_costs(stats, query, plan).shows(stats, query, plan), True)
+            right = max(listing.regrets(name)) == calm.number
+            self.assertIs(Calmest(plan, calm.number, calm.worst).shows(stats, query), right)
+
+    def test_no_more_is_done_than_is_needed(self):
+        schema = Schema(3, (2, 2, 2))
+        query = Query(schema, ((0, (0, 1)), (1, (1, 2)), (2, (2, 3))), (), (1,))
+        listed, joined = [], []
+
+        def list_some(network, most):
+            listed.append(list_counts(network, most))
+            return listed[-1]
+
+        def join_some(one, other):
+            joined.append(None)
+            return join_rows(one, other)
+
+        with patch("surelyplan.sizes.list_counts", list_some), patch("surelyplan.costing.join_rows", join_some):
+            for notes in ([], [("rows", 0, 0, 1)], [("rows", 0, 0, 1), ("rows", 1, 0, 1)], [("rows", 2, 0, 0)]):
+                listed.clear()
+                self.assert_fault(judge_plans, (Statistics(schema, notes), query), TooLarge)
+                self.assertTrue(sum(len(tables) for tables in listed) < 140)
+            self.assertEqual([], joined)
+            stats = Statistics(schema, [("rows", 0, 0, 1), ("rows", 1, 0, 1), ("rows", 2, 0, 0)])
+            listed.clear()
+            best_questions(stats, query)
+            self.assertEqual([10, 10, 1], [len(tables) for tables in listed])
+            # 100 pairs of rows of the first two tables, 20 of the last one, and 100 of all tables.
+            self.assertTrue(len(joined) <= 220)
 
 
 class ShowsChoices(Case):
