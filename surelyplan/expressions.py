@@ -180,7 +180,8 @@ def _table_rows(data, table, conditions, wanted):
         if all([fulfils(cell, condition) for condition in conditions]):
             row = tuple([cell[column] for column in wanted])
             rows[row] = rows.get(row, 0) + count
-    return rows
+    # In ascending order, so that rows joined from these mostly come about in it, too.
+    return {row: rows[row] for row in sorted(rows)}
 
 
 def _joined(data, expression, conditions, wanted):
@@ -190,18 +191,26 @@ def _joined(data, expression, conditions, wanted):
     right = [condition for condition in conditions if min(condition_columns(condition)) >= many]
     links = [condition for condition in conditions if condition not in left and condition not in right]
     needed = wanted + tuple([column for link in links for column in condition_columns(link)])
-    lefts = tuple(sorted({column for column in needed if column < many}))
-    rights = tuple(sorted({column - many for column in needed if column >= many}))
+    lefts = _different([column for column in needed if column < many])
+    rights = _different([column - many for column in needed if column >= many])
     shift = [column - many for column in range(many + MOST_COLUMNS)]
     one = _rows(data, expression[1], left, lefts)
     other = _rows(data, expression[2], [move_condition(condition, shift) for condition in right], rights)
-    order = lefts + tuple([column + many for column in rights])
-    if order == wanted and links == []:
+    behind = tuple([column + many for column in rights])
+    if links == [] and wanted == lefts + behind:
         return {row + more: count * times for row, count in one.items() for more, times in other.items()}
+    if links == [] and wanted == behind + lefts:
+        return {more + row: count * times for more, times in other.items() for row, count in one.items()}
+    order = lefts + behind
     places = [order.index(column) for column in wanted]
     owns = [lefts.index(link[1]) for link in links]
     theirs = [rights.index(link[2] - many) for link in links]
     return _linked(one, other, owns, theirs, places)
+
+
+def _different(columns):
+    """Return the tuple of the different columns of a list, in its order."""
+    return tuple([column for place, column in enumerate(columns) if column not in columns[:place]])
 
 
 def _linked(one, other, owns, theirs, places):

@@ -47,7 +47,7 @@ def polynomials(schema, expression):
     need_schema(schema)
     need_expression(schema, expression)
     _need_few_values(schema)
-    return _written_out(schema, _numbered(schema, expression))
+    return _spelled_out(schema, _numbered(schema, expression))
 
 
 def degree(schema, expression):
@@ -97,7 +97,7 @@ def _all_cells(schema):
     return [(table, cell) for table in range(len(schema)) for cell in schema.cells(table)]
 
 
-def _written_out(schema, rows):
+def _spelled_out(schema, rows):
     """Return polynomials with pairs of a table and a cell in place of their indices, all in ascending order."""
     cells = _all_cells(schema)
     return {

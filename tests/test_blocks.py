@@ -1,6 +1,6 @@
 """[18] Blocks."""
 
-from itertools import groupby
+from itertools import groupby, product
 
 from surelyplan.blocks import FirstTorn, SurelyFirst
 from surelyplan.blocks import block_ends, blocks_to_read, judge_first, rows_from_blocks, run_count, stored_blocks, zones
@@ -267,6 +267,20 @@ class FirstForSure(Case):
             [right[0], larger], [larger, right[1]], [right[0], DATA], [right[0], right[0]], [right[1], right[1]],
         ):
             self.assertIs(FirstTorn(against).shows(stats, twice, 0, 2), False)
+        # Data that do not agree, or have another schema, are wrong even if the numbers of blocks are right.
+        for counts in product(range(3), repeat=4):
+            data = Data(PAIRS, (counts,))
+            read = [len(read_by_hand(twice, data, 0, first, 2)) for first in (0, 1)]
+            if read[0] != read[1]:
+                place = 0 if read[0] > read[1] else 1
+                against = list(right)
+                against[place] = data
+                agrees = all(oracle.note_holds(PAIRS, note, counts) for note in stats.notes)
+                self.assertIs(FirstTorn(against).shows(stats, twice, 0, 2), agrees)
+                against[place] = Data(Schema(2, (2, 1)), (counts, (0, 0)))
+                self.assertIs(FirstTorn(against).shows(stats, twice, 0, 2), False)
+                against[place] = Data(Schema(3, (2,)), (counts + (0,) * 5,))
+                self.assertIs(FirstTorn(against).shows(stats, twice, 0, 2), False)
         told = FirstTorn(right)
         told.against = right[::-1]
         self.assertIs(told.shows(stats, twice, 0, 2), False)

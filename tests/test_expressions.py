@@ -1,5 +1,7 @@
 """[31] Expressions."""
 
+from itertools import permutations
+
 from surelyplan.errors import BadData, BadExpression, BadQuery, BadSchema, TooLarge
 from surelyplan.expressions import columns, evaluate, expression_of
 from surelyplan.queries import Query, answer
@@ -198,6 +200,19 @@ class Answers(Case):
         self.assertEqual({}, evaluate(data, few))
         found = evaluate(data, joined(*[ONE] * 8))
         self.assertEqual((6 ** 8, (0,) * 8, (5,) * 8), (len(found), list(found)[0], list(found)[-1]))
+        turned = evaluate(data, ("keep", (6, 7, 5, 4, 2, 3, 1, 0), whole))
+        self.assertEqual((6 ** 8, {9 ** 4}), (len(turned), set(turned.values())))
+        self.assertEqual([(0,) * 7 + (value,) for value in range(6)], list(turned)[:6])
+
+    def test_columns_in_any_order(self):
+        chance = chance_of(313)
+        data = draw_data(chance, Schema(3, (2, 1)), 2)
+        whole = joined(PAIR, ONE, PAIR)
+        for order in permutations(range(5)):
+            expression = ("keep", order[:chance.randint(3, 5)], whole)
+            self.assertEqual(algebra.answer(data, expression), list(evaluate(data, expression).items()))
+            expression = ("keep", order[:4], ("same", 0, 3, whole))
+            self.assertEqual(algebra.answer(data, expression), list(evaluate(data, expression).items()))
 
 
 class Queries(Case):

@@ -36,6 +36,8 @@ UNUSED = (
     "globals", "hasattr", "help", "id", "importlib", "license", "locals", "methodcaller", "os", "quit", "setattr", "type",
     "vars", "sys", "typing", "enum", "dataclass",
 )
+BARRED_STARTS = ("_wall", "_pe_", "_dcw_", "_enum_", "_cm_", "_twin_re_", "_lay_", "_law_", "_stub_", "_sre", "_WallAttr")
+BARRED_NAMES = ("_cold", "_tuplegetter", "_outside", "_record", "_written_out", "_member_names")
 VIEWS = ("range", "zip", "enumerate", "reversed")
 TAKERS = ("list", "tuple", "dict", "sorted", "sum", "any", "all", "enumerate", "zip", "min", "max", "permutations")
 
@@ -99,6 +101,12 @@ class Files(TestCase):
             for line in text.split("\n"):
                 self.assertLessEqual(len(line), 120, line)
                 self.assertEqual(line.rstrip(), line)
+
+    def test_words_that_stand_nowhere(self):
+        for path in FILES:
+            text = path.read_text(encoding="utf-8")
+            for word in ("_wall", "_WallAttr", "dataclass", "overload", "contextmanager"):
+                self.assertNotIn(word, text, path)
 
     def test_functions_are_small(self):
         for tree in TREES.values():
@@ -185,6 +193,8 @@ class Names(TestCase):
             names |= {node.name for node in functions(tree)}
             for name in names:
                 self.assertNotIn(name, UNUSED, file)
+                self.assertNotIn(name.rstrip("0123456789_"), BARRED_NAMES, file)
+                self.assertFalse(name.startswith(BARRED_STARTS), name)
                 if name not in SPECIAL:
                     self.assertFalse(name.startswith("__"), name)
                 if name not in ("get", "index", "_") and name not in SPECIAL:
