@@ -1,11 +1,11 @@
 """Copies of tables at several machines: whether a query can run, and loads that are as even as possible."""
 
 from surelyplan.errors import BadMachines, NotPossible
+from surelyplan.networks import quantity_ends
 from surelyplan.notes import ROWS
 from surelyplan.plain import are_between, index_groups, is_ascending, is_between, is_group, is_integer, is_sequence
 from surelyplan.queries import check_query_and_data, need_query, used_tables
 from surelyplan.sizes import check_notes_and_query
-from surelyplan.weighing import quantity_ends
 
 MOST_MACHINES = 4
 
@@ -68,12 +68,15 @@ def greatest_load(query, data, many, homes, down):
 
 def surely_greatest_load(stats, query, many, homes, down):
     """Return the greatest one of the greatest loads over all agreeing data."""
-    check_notes_and_query(stats, query)
+    networks = check_notes_and_query(stats, query)
     _need_machines(query, many, homes, down)
     _need_run(query, homes, down)
     # More rows never make a load smaller, and the tables agree with their notes each on its own.
     used = used_tables(query)
-    rows = [quantity_ends(stats, table, ROWS)[1] if table in used else 0 for table in range(len(query.schema))]
+    rows = [
+        quantity_ends(network, query.schema, table, ROWS)[1] if table in used else 0
+        for table, network in enumerate(networks)
+    ]
     return _greatest_share(rows, _live_copies(homes, down), many)
 
 

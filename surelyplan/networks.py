@@ -121,6 +121,13 @@ def list_counts(network, most):
     return found
 
 
+def quantity_ends(network, schema, table, quantity):
+    """Return the pair of the smallest and the greatest value of a quantity of an agreeing table, if there is one."""
+    # The flow of one edge is the quantity: the edge that is about the same cells.
+    at = network.shape.edge_at[tuple(cells_about(schema, table, quantity))]
+    return network.flow_ends(network.slacks(), at)
+
+
 def first_counts(network):
     """Return the smallest counts of an agreeing table, if there is one."""
     return (0,) * network.shape.width if network.is_free else list_counts(network, 0)[0]

@@ -1,13 +1,12 @@
 """Sizes of answers over all data that agree with statistics, and covers that bound them."""
 
 from surelyplan.errors import TooLarge
-from surelyplan.networks import first_counts, list_counts
+from surelyplan.networks import first_counts, list_counts, quantity_ends
 from surelyplan.notes import ROWS
 from surelyplan.plain import all_tuples, are_between, index_groups, is_ascending
 from surelyplan.queries import answer_size, need_query, need_same_schema, used_tables
 from surelyplan.schemas import Data, cell_place
 from surelyplan.statistics import MOST_LISTED, agree, need_agreeing, need_statistics
-from surelyplan.weighing import quantity_ends
 
 
 class SizeEnds:
@@ -41,12 +40,12 @@ class Covered:
 
     def shows(self, stats, query):
         """Return whether the atoms are a cover with the smallest possible bound."""
-        check_notes_and_query(stats, query)
+        networks = check_notes_and_query(stats, query)
         if not are_between(self.atoms, 0, len(query) - 1) or not is_ascending(self.atoms):
             return False
         if not _covers(query, self.atoms):
             return False
-        factors = _factors(stats, query)
+        factors = _factors(networks, query)
         return _bound(factors, self.atoms) == _bound(factors, _best_cover(query, factors))
 
 
@@ -66,14 +65,13 @@ def reach_sizes(stats, query):
 
 def cover(stats, query):
     """Return a `Covered`: a cover of a query with the smallest possible bound."""
-    check_notes_and_query(stats, query)
-    return Covered(_best_cover(query, _factors(stats, query)))
+    networks = check_notes_and_query(stats, query)
+    return Covered(_best_cover(query, _factors(networks, query)))
 
 
 def cover_bound(stats, query):
     """Return the smallest possible bound of a cover."""
-    check_notes_and_query(stats, query)
-    factors = _factors(stats, query)
+    factors = _factors(check_notes_and_query(stats, query), query)
     return _bound(factors, _best_cover(query, factors))
 
 
@@ -172,12 +170,13 @@ def _covers(query, atoms):
     return len({variable for atom in atoms for variable in query.atoms[atom][1]}) == query.variables()
 
 
-def _factors(stats, query):
+def _factors(networks, query):
     """Return, for each atom, the pair of the greatest number of rows of its table and of one of its cells."""
     most = {}
     for table in used_tables(query):
-        cells = [quantity_ends(stats, table, ("cell", cell))[1] for cell in stats.schema.cells(table)]
-        most[table] = (quantity_ends(stats, table, ROWS)[1], max(cells))
+        quantities = [ROWS] + [("cell", cell) for cell in query.schema.cells(table)]
+        ends = [quantity_ends(networks[table], query.schema, table, quantity)[1] for quantity in quantities]
+        most[table] = (ends[0], max(ends[1:]))
     return [most[atom[0]] for atom in query.atoms]
 
 

@@ -1,8 +1,8 @@
 """Weighted sums of tables, the ends of quantities, and what follows from notes."""
 
 from surelyplan.errors import BadQuantity, BadWeights
-from surelyplan.networks import edge_list, list_counts, network_of, node_list
-from surelyplan.notes import bounds_of, cells_about, is_note, is_quantity, note_parts, value_on
+from surelyplan.networks import edge_list, list_counts, network_of, node_list, quantity_ends
+from surelyplan.notes import bounds_of, is_note, is_quantity, note_parts, value_on
 from surelyplan.plain import are_between, is_group, is_integer
 from surelyplan.schemas import need_table
 from surelyplan.statistics import Statistics, need_agreeing, need_statistics, table_agrees
@@ -57,10 +57,10 @@ def tightest(stats, table, quantity):
     """Return the pair of the smallest and the greatest value of a quantity over all data that agree."""
     need_statistics(stats)
     need_table(stats.schema, table)
-    need_agreeing(stats)
+    networks = need_agreeing(stats)
     if not is_quantity(stats.schema, table, quantity):
         raise BadQuantity("not a quantity of the table")
-    return quantity_ends(stats, table, quantity)
+    return quantity_ends(networks[table], stats.schema, table, quantity)
 
 
 def follows(stats, note):
@@ -84,17 +84,9 @@ def needed_notes(stats):
     return kept
 
 
-def quantity_ends(stats, table, quantity):
-    """Return the pair of the smallest and the greatest value of a quantity of an agreeing table."""
-    # The flow of one edge is the quantity: the edge that is about the same cells.
-    network = network_of(stats, table)
-    at = network.shape.edge_at[tuple(cells_about(stats.schema, table, quantity))]
-    return network.flow_ends(network.slacks(), at)
-
-
 def _holds(stats, note):
     table, quantity, low, high = note_parts(note)
-    least, greatest = quantity_ends(stats, table, quantity)
+    least, greatest = quantity_ends(network_of(stats, table), stats.schema, table, quantity)
     return low <= least and greatest <= high
 
 
